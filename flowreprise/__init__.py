@@ -1,0 +1,1 @@
+"""Flowreprise: workflows that go on behind every fall."""

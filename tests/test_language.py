@@ -1,0 +1,194 @@
+"""The rules of the language in which the package is written, as far as a test can see them."""
+
+import ast
+import builtins
+import importlib
+import inspect
+import os
+import re
+import unittest
+
+import flowreprise
+
+FOLDER = os.path.dirname(flowreprise.__file__)
+FILES = sorted(name for name in os.listdir(FOLDER) if name != "__pycache__")
+USED_BUILTINS = set(
+    "len range enumerate zip min max sum abs sorted reversed int str bool list tuple dict set isinstance ord any all "
+    "divmod ValueError".split())
+METHODS = set(
+    "append clear copy count endswith extend find get index insert isalnum isalpha isdigit islower isspace isupper "
+    "items join keys ljust lower lstrip partition pop remove replace reverse rfind rjust rpartition rsplit rstrip "
+    "setdefault split splitlines startswith strip update upper values zfill bit_length add discard".split())
+UNUSED_NAMES = set(
+    "register mro elements open input law version_info with_traceback add_note attrgetter breakpoint builtins compile "
+    "copyright credits delattr dir eval exec exit gc getattr globals hasattr help id importlib license locals "
+    "methodcaller os quit setattr super type vars sys args format format_map decode".split())
+UNUSED_WORDS = set(
+    "typing typing_extensions enum Enum IntEnum StrEnum Flag IntFlag Generic Protocol ABC ABCMeta namedtuple "
+    "NamedTuple TypedDict TYPE_CHECKING abstractmethod dataclass overload contextmanager _wall _WallAttr".split())
+UNUSED_NODES = (
+    ast.Global, ast.Nonlocal, ast.AsyncFunctionDef, ast.AsyncFor, ast.AsyncWith, ast.Await, ast.Lambda, ast.With,
+    ast.Yield, ast.YieldFrom, ast.NamedExpr, ast.Starred, ast.GeneratorExp, ast.Delete, ast.Div, ast.Import,
+    ast.MatMult, ast.AnnAssign, ast.Match, ast.Assert, ast.SetComp)
+INTERFACE = {
+    "operations": {
+        "operate": "sign a b", "inverted": "a", "negated": "a", "item_of": "a index", "size_of": "a", "text_of": "a",
+        "list_of": "items", "is_value": "value", "is_of": "value sort"},
+    "code": {
+        "taken": "instruction", "may_fail": "instruction", "made": "instruction values", "targets": "code at",
+        "leaders": "code"},
+    "compiling": {"compile_program": "program", "signatures": "program"},
+    "values": {
+        "is_type": "kind", "is_value": "value", "kind_of": "value", "fits": "value kind", "known_type": "value",
+        "joined": "one other", "show_type": "kind", "show_value": "value", "read_value": "text",
+        "read_typed": "text kind"},
+    "effects": {
+        "effects": "program", "own_effects": "program at", "way": "program name effect",
+        "way_right": "program name effect places", "reached": "program name", "has_ring": "program",
+        "without_requests": "program", "allows_request": "known request", "allows_failure": "known code"},
+    "verifying": {
+        "verify": "codes signatures", "paper_right": "codes signatures paper", "first_state": "code signature",
+        "next_states": "code at state signatures"},
+    "bounds": {
+        "ending": "program", "bounded": "program", "most_steps": "program", "step_paper": "program",
+        "paper_holds": "program paper"},
+    "trees": {"read_program": "text", "read_expression": "text"},
+}
+
+
+def source_of(name):
+    with open(os.path.join(FOLDER, name), encoding="utf-8") as file:
+        return file.read()
+
+
+def bound_names(function):
+    """The parameters and variables of a function."""
+    names = [arg.arg for arg in function.args.args]
+    return names + [node.id for node in ast.walk(function) if isinstance(node, ast.Name) and not isinstance(
+        node.ctx, ast.Load)]
+
+
+class TestFiles(unittest.TestCase):
+    def test_names_and_characters(self):
+        for name in FILES:
+            with self.subTest(name=name):
+                self.assertRegex(name, r"^[a-z_][a-z0-9_]*\.py$")
+                self.assertNotIn(name[:-3], dir(builtins))
+                source = source_of(name)
+                self.assertRegex(source, r"\A[ -~\n]*\Z")
+                lines = source.splitlines()
+                self.assertLessEqual(len(lines), 399)
+                self.assertLessEqual(max(len(line) for line in lines), 120)
+                self.assertFalse(UNUSED_WORDS & set(re.findall(r"\w+", source)))
+
+    def test_imports(self):
+        leads = {}
+        for name in FILES:
+            rows = ast.parse(source_of(name)).body
+            leads[name] = []
+            heads = [row for row in rows[1:] if isinstance(row, ast.ImportFrom)]
+            self.assertEqual(rows[1:len(heads) + 1], heads)
+            for row in heads:
+                self.assertEqual(row.level, 0)
+                folder, other = row.module.split(".")
+                self.assertEqual(folder, "flowreprise")
+                leads[name].append(other + ".py")
+                own = {row.name for row in ast.parse(source_of(other + ".py")).body if hasattr(row, "name")}
+                own |= {row.targets[0].id for row in ast.parse(source_of(other + ".py")).body
+                        if isinstance(row, ast.Assign)}
+                for alias in row.names:
+                    self.assertIsNone(alias.asname)
+                    self.assertIn(alias.name, own)
+        done = []
+        while len(done) < len(FILES):
+            ready = [name for name in FILES if name not in done and all(other in done for other in leads[name])]
+            self.assertTrue(ready, "files import from each other")
+            done += ready
+
+    def test_module_level(self):
+        for name in FILES:
+            seen = []
+            for row in ast.parse(source_of(name)).body:
+                with self.subTest(name=name, line=row.lineno):
+                    self.assertIsInstance(
+                        row, (ast.Expr, ast.ImportFrom, ast.FunctionDef, ast.ClassDef, ast.Assign))
+                    if isinstance(row, ast.Expr):
+                        self.assertIsInstance(row.value, ast.Constant)
+                    elif isinstance(row, ast.Assign):
+                        self.assertIsInstance(row.targets[0], ast.Name)
+                        for node in ast.walk(row.value):
+                            self.assertNotIsInstance(node, (ast.Call, ast.Name, ast.Set))
+                        seen.append(row.targets[0].id)
+                    elif isinstance(row, ast.ImportFrom):
+                        seen += [alias.name for alias in row.names]
+                    else:
+                        seen.append(row.name)
+            self.assertEqual(len(seen), len(set(seen)))
+
+
+class TestCode(unittest.TestCase):
+    def test_nodes(self):
+        for name in FILES:
+            for node in ast.walk(ast.parse(source_of(name))):
+                with self.subTest(name=name, line=getattr(node, "lineno", 0)):
+                    self.assertNotIsInstance(node, UNUSED_NODES)
+                    if isinstance(node, ast.Constant):
+                        self.assertNotIsInstance(node.value, (float, complex, bytes))
+                        if isinstance(node.value, str):
+                            self.assertNotIn("%", node.value)
+                            self.assertNotIn("__", node.value)
+                    if isinstance(node, ast.Compare):
+                        for sign, other in zip(node.ops, node.comparators):
+                            if isinstance(sign, (ast.Is, ast.IsNot)):
+                                self.assertIn(ast.unparse(other), ("None", "True", "False"))
+                    if isinstance(node, (ast.FunctionDef, ast.ClassDef)):
+                        self.assertEqual(node.decorator_list, [])
+                        self.assertTrue(ast.get_docstring(node) or node.name.startswith("_"))
+
+    def test_functions(self):
+        for name in FILES:
+            tree = ast.parse(source_of(name))
+            heads = {alias.name for row in tree.body if isinstance(row, ast.ImportFrom) for alias in row.names}
+            heads |= {row.name for row in tree.body if isinstance(row, ast.ClassDef)}
+            own = heads | {row.name for row in tree.body if isinstance(row, ast.FunctionDef)}
+            own |= {row.targets[0].id for row in tree.body if isinstance(row, ast.Assign)}
+            for function in ast.walk(tree):
+                if not isinstance(function, ast.FunctionDef):
+                    continue
+                with self.subTest(name=name, function=function.name):
+                    self.assertLessEqual(function.end_lineno - function.lineno + 1, 40)
+                    bound = set(bound_names(function))
+                    self.assertFalse(bound & (heads | set(dir(builtins)) | UNUSED_NAMES))
+                    self.assertNotIn(function.name, set(dir(builtins)) | UNUSED_NAMES)
+                    for node in ast.walk(function):
+                        if isinstance(node, ast.Name) and isinstance(node.ctx, ast.Load):
+                            self.assertNotEqual(node.id, "_")
+                            self.assertIn(node.id, bound | own | USED_BUILTINS)
+
+    def test_methods(self):
+        own = {node.name for name in FILES for node in ast.walk(ast.parse(source_of(name)))
+               if isinstance(node, ast.FunctionDef)}
+        for name in FILES:
+            for node in ast.walk(ast.parse(source_of(name))):
+                if isinstance(node, ast.Call) and isinstance(node.func, ast.Attribute):
+                    with self.subTest(name=name, line=node.lineno):
+                        self.assertIn(node.func.attr, METHODS | own)
+                if isinstance(node, ast.Attribute):
+                    self.assertNotIn(node.attr, UNUSED_NAMES)
+
+
+class TestInterface(unittest.TestCase):
+    def test_functions_are_defined_in_their_files(self):
+        for name, rows in INTERFACE.items():
+            if name + ".py" not in FILES:
+                continue
+            module = importlib.import_module("flowreprise." + name)
+            for function, params in rows.items():
+                with self.subTest(name=name, function=function):
+                    told = getattr(module, function)
+                    self.assertEqual(told.__module__, module.__name__)
+                    self.assertEqual(list(inspect.signature(told).parameters), params.split())
+
+
+if __name__ == "__main__":
+    unittest.main()

@@ -100,9 +100,7 @@ def _read_first(reader):
         return _read_list(reader)
     if word in WITH_ONE_PART:
         return _read_with_part(reader)
-    if word == "await":
-        return _read_await(reader)
-    raise ReadError(reader.where())
+    return _read_await(reader)
 
 
 def _read_enclosed(reader):
@@ -135,12 +133,12 @@ def _read_arguments(reader):
 
 def _read_parts(reader, closing, most):
     """Reads expressions up to a closing sign, and returns them and the greatest depth, or 0."""
-    parts = []
-    depth = 0
-    if reader.here() != closing:
-        part, depth = _read_deep(reader)
-        parts.append(part)
-    while parts and reader.here() == ",":
+    if reader.here() == closing:
+        reader.leave(closing)
+        return [], 0
+    part, depth = _read_deep(reader)
+    parts = [part]
+    while reader.here() == ",":
         reader.take(",")
         check_room(reader, len(parts), most)
         part, part_depth = _read_deep(reader)

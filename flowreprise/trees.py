@@ -1,6 +1,5 @@
 """Programs and expressions are read from texts."""
 
-from flowreprise.errors import ReadError
 from flowreprise.expressions import read_tree
 from flowreprise.reader import Reader, check_room, read_kind, read_name
 from flowreprise.words import END
@@ -39,10 +38,11 @@ def _read_function(reader):
 
 def _read_parameters(reader):
     reader.take("(")
-    params = []
-    if reader.here() != ")":
-        params.append(_read_parameter(reader))
-    while params and reader.here() == ",":
+    if reader.here() == ")":
+        reader.take(")")
+        return []
+    params = [_read_parameter(reader)]
+    while reader.here() == ",":
         reader.take(",")
         check_room(reader, len(params), MOST_PARAMETERS)
         params.append(_read_parameter(reader))
@@ -81,9 +81,7 @@ def _read_statement(reader):
         reader.take("while")
         tree = read_tree(reader)
         return ("while", tree, _read_body(reader))
-    if word == "try":
-        return _read_try(reader)
-    raise ReadError(reader.where())
+    return _read_try(reader)
 
 
 def _read_assignment(reader):

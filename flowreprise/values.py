@@ -74,8 +74,8 @@ def known_type(value):
         return value[0]
     inner = None
     for item in value[1]:
-        told = known_type(item)
-        inner = False if told is False else joined(inner, told)
+        # What is False, as its own items cannot be joined, is joined with nothing.
+        inner = joined(inner, known_type(item))
         if inner is False:
             return False
     return ("list", inner)

@@ -4,11 +4,9 @@ from flowreprise.code import may_fail, taken, targets
 from flowreprise.errors import VerifyError
 from flowreprise.soundness import answered, called, listed, made_by_sign, made_by_word, pushed
 
-# The instructions with a place, a slot or a count, and where in them it stands.
-PLACES = {"jump": 1, "unless": 1, "guard": 1}
+# The instructions with a slot or a count, and where in them it stands.
 SLOTS = {"get": 1, "put": 1, "guard": 2}
 COUNTS = {"list": 2, "call": 2}
-BY_TYPES = ("not", "neg", "item", "size", "text of")
 
 
 def first_state(code, signature):
@@ -109,8 +107,8 @@ def misformed(code, signature):
 def _is_placed(rows, at):
     instruction = rows[at]
     told = list(targets(rows, at))
-    if instruction[0] in PLACES:
-        told.append(instruction[PLACES[instruction[0]]])
+    if instruction[0] == "guard":
+        told.append(instruction[1])
     return all([0 <= place < len(rows) for place in told])
 
 
@@ -190,19 +188,25 @@ def _states_right(code, signature, signatures, states):
 
 def _leads_right(code, at, states, signatures):
     """Returns whether a place with a state is sound for it, and leads to states that fit."""
-    state = states[at]
-    # The guards of a state that is only told may have slots that are none of the code.
-    if len(state[1]) != code[3] or not all([0 <= slot < code[3] for _, slot, _ in state[2]]):
+    if not _is_of_code(code, states[at]):
         return False
-    pairs = next_states(code, at, state, signatures)
+    pairs = next_states(code, at, states[at], signatures)
     return pairs is not None and all([_fits_at(states, place, after) for place, after in pairs])
+
+
+def _is_of_code(code, state):
+    """Returns whether the slots and guards of a state, which may be only told, can be those of code."""
+    _, slots, guards = state
+    if len(slots) != code[3]:
+        return False
+    return all([0 <= place < len(code[4]) and 0 <= slot < code[3] and height >= 0 for place, slot, height in guards])
 
 
 def _fits_at(states, place, state):
     """Returns whether a state fits the one of its place."""
-    if not 0 <= place < len(states) or states[place] is None:
+    if states[place] is None:
         return False
     stack, slots, guards = states[place]
-    if state[0] != stack or state[2] != guards or len(state[1]) != len(slots):
+    if state[0] != stack or state[2] != guards:
         return False
     return all([told is None or told == kind for kind, told in zip(state[1], slots)])

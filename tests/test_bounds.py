@@ -206,6 +206,12 @@ class TestHolding(unittest.TestCase):
         for cut in range(len(great) + 1):
             self.assertIs(self.holds(m=great[:cut] + [None] * (len(great) - cut)), False)
 
+    def test_rings_without_a_way_out(self):
+        program = read_program("fn f(): int { return f(); } fn g(): int { return h(); } fn h(): int { return g(); }")
+        numbers = [(None, None), (1, None), None, None]
+        self.assertIs(paper_holds(program, {"f": numbers}), False)
+        self.assertIs(paper_holds(program, {"g": numbers, "h": numbers}), False)
+
     def test_loops_that_are_never_reached(self):
         many = len(compile_program(self.program)["u"][4])
         self.assertNotIn("u", bounded(self.program))

@@ -58,7 +58,7 @@ class TestPlaces(unittest.TestCase):
 
     def test_leaders(self):
         self.assertEqual(leaders([("push", ("int", 1)), ("return",)]), [0])
-        rows = [("guard", 7, 3), ("get", 5), ("unless", 4), ("jump", 2), ("put", 6), ("unguard",), ("jump", 4),
+        rows = [("guard", 7, 3), ("get", 5), ("unless", 4), ("jump", 2), ("put", 6), ("unguard",), ("jump", 2),
                 ("call", "f", 1), ("ask", "now"), ("return",)]
         self.assertEqual(check_untouched(self, leaders, rows), [0, 2, 4, 7])
         self.assertEqual(leaders([("jump", 0)]), [0])

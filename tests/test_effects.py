@@ -276,6 +276,8 @@ class TestWays(unittest.TestCase):
             self.assertIs(way_right(program, "f", "fails 300", wrong), False)
         self.assertIs(way_right(program, "f", "fails 301", good), False)
         self.assertIs(way_right(program, "h", "fails 300", good), False)
+        self.assertIs(way_right(program, "z", "fails 300", good), False)
+        self.assertIsNone(way(program, "z", "fails 300"))
 
 
 class TestRandom(unittest.TestCase):

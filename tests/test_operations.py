@@ -141,6 +141,8 @@ class TestTextsAndLists(unittest.TestCase):
         self.assertEqual(list_of([whole(n) for n in range(21)]), ("failed", 2))
         self.assertEqual(list_of([nested(5)]), ("ok", nested(6)))
         self.assertEqual(list_of([nested(6)]), ("failed", 2))
+        self.assertEqual(list_of([nested(5, whole(1))]), ("ok", nested(6, whole(1))))
+        self.assertEqual(list_of([nested(6, whole(1))]), ("failed", 2))
 
 
 class TestTruths(unittest.TestCase):

@@ -272,6 +272,9 @@ class TestBounds(Case):
             text = "fn f(): int {" + start * 9
             self.check_wrong_program(text + "do a;" + end * 9 + "}", None)
             self.check_wrong_program(text + "do a;" + end * 9 + "while a {}}", None)
+            self.check_wrong_program(text + "while a {}" + end * 9 + "}", len(text) + 8)
+            deep = text[:13] + "while a {}" + text[13:]
+            self.check_wrong_program(deep + "while a {}" + end * 9 + "}", len(deep) + 8)
             wrong = text + "while a {do a;}" + end * 9 + "}"
             self.check_wrong_program(wrong, len(text) + 8)
 
@@ -324,6 +327,10 @@ class TestBounds(Case):
         self.check_wrong("(" * 30 + "await act a", 30 + 11)
 
     def test_inside_ends(self):
+        for opened in ("(a)", "-a", "a[1]", "f(a)", "f()", "f(a, a)", "[int: a]", "[int:]", "size(a)", "not a"):
+            self.check_wrong(opened + " & " + "(" * 30 + "a" + ")" * 30, None)
+            self.check_wrong(opened + " & " + "(" * 31 + "a" + ")" * 31, len(opened) + 33)
+            self.check_wrong("(" * 29 + opened + " & - - a", 29 + len(opened) + 5)
         many = " + ".join(["(-(a))"] * 12)
         self.check_wrong(many, None)
         self.check_wrong("(" * 29 + "-a + -a" + ")" * 29, None)
@@ -341,6 +348,12 @@ class TestBounds(Case):
         self.check_wrong("a * (" + summed(30) + ")", 2)
         self.check_wrong("a * (" + summed(31) + ")", 5 + 4 * 30 - 2)
         self.check_wrong("(" + summed(30) + ") < a < b", 4 * 30)
+
+    def test_parts_without_parts(self):
+        for part in ("1", '""', "true", "false", "nothing", "now", "a", "f()", "[int:]", "await flow f()",
+                     "await signal a: [[int]]", "(a)"):
+            self.check_wrong(" * ".join([part] * 30), None)
+            self.check_wrong(" * ".join([part] * 31), (len(part) + 3) * 30 - 2)
 
     def test_depth_of_each_row(self):
         deep = summed(30)

@@ -401,22 +401,32 @@ class TestPapers(Case):
         self.assertIs(self.right(g=rows), False)
         rows[-1] = (("int",), (None, None), ())
         self.assertIs(self.right(g=rows), False)
+        rows[-2:] = [None, (("nothing",), (None, None), ())]
+        self.assertIs(self.right(g=rows), True)
+        for slots in ((None,), (None, None, None), ()):
+            rows[-1] = (("nothing",), slots, ())
+            self.assertIs(self.right(g=rows), False)
 
     def test_guards_that_are_only_told(self):
         rows = [("jump", 3), ("ask", "now"), ("drop",), *END]
         codes, sorts = {"f": code_of(rows, 1)}, {"f": ([], "nothing")}
         paper = verify(codes, sorts)["f"]
-        for guard, wanted in (((3, 0, 0), False), ((9, 0, 0), False), ((-1, 0, 0), False), ((3, 4, 0), False),
-                              ((3, -1, 0), False)):
+        for guard in ((3, 0, 0), (9, 0, 0), (5, 0, 0), (-2, 0, 0), (3, 1, 0), (3, -1, 0), (3, 0, -1)):
             state = ((), (None,), (guard,))
             told = [paper[0], state, (("int",), *state[1:]), paper[3], paper[4]]
-            self.assertIs(paper_right(codes, sorts, {"f": told}), wanted)
+            self.assertIs(paper_right(codes, sorts, {"f": told}), False)
         state = ((), (None,), ())
         self.assertIs(paper_right(codes, sorts, {"f": [paper[0], state, (("int",), (None,), ()), *paper[3:]]}), True)
 
     def test_code_otherwise(self):
         for code in (code_of([], 2, 1), code_of(END, 0, 1), code_of(END, 3, 2), code_of([("get", 5), *END], 3, 1)):
             self.assertIs(paper_right({"f": code}, {"f": (["int"], "nothing")}, {"f": [None] * len(code[4])}), False)
+        state, last = ((), (None,), ()), (("nothing",), (None,), ())
+        codes, sorts = {"f": code_of(END, 1)}, {"f": ([], "nothing")}
+        self.assertIs(paper_right(codes, sorts, {"f": [state, last]}), True)
+        for row in (("jump", 9), ("get", 1), ("drop",), ("guard", 0, 1)):
+            codes = {"f": code_of([*END, row], 1)}
+            self.assertIs(paper_right(codes, sorts, {"f": [state, last, None]}), False)
         codes = copy.deepcopy(self.codes)
         codes["g"][4][0] = ("get", 1)
         self.assertIs(paper_right(codes, self.sorts, self.paper), False)

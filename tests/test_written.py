@@ -174,6 +174,19 @@ class TestTyped(unittest.TestCase):
                 else:
                     self.assertEqual(told_length(read_typed, text, other), length_read(text, [other]))
 
+    def test_cut_off_and_wrong_behind_every_character(self):
+        rng = random.Random(7)
+        for kind in KINDS:
+            for text in [show_value(random_value(rng, kind)) for _ in range(3)]:
+                for at in range(len(text) + 1):
+                    for wrong in ("", "x", "1", "]", ",", " ", "[", '"', "t"):
+                        told = text[:at] + wrong
+                        wanted = length_read(told, [kind])
+                        self.assertEqual(told_length(read_typed, told, kind), wanted, told)
+                        self.assertTrue(wanted is None or wanted >= at)
+                for other in KINDS:
+                    self.assertEqual(told_length(read_typed, text, other), length_read(text, [other]))
+
     def test_each_depth(self):
         for word, inner in (("int", "1"), ("bool", "true"), ("text", '"a"'), ("nothing", "nothing")):
             for depth in range(7):

@@ -408,15 +408,21 @@ class TestPapers(Case):
             self.assertIs(self.right(g=rows), False)
 
     def test_guards_that_are_only_told(self):
-        rows = [("jump", 3), ("ask", "now"), ("drop",), *END]
-        codes, sorts = {"f": code_of(rows, 1)}, {"f": ([], "nothing")}
+        # The places 1 and 2 are never reached; a failure at the place 1 leads to that of the guard.
+        one = ("push", ("int", 1))
+        codes = {"f": code_of([("jump", 3), ("ask", "now"), ("return",), one, ("return",)], 2)}
+        sorts = {"f": ([], "int")}
         paper = verify(codes, sorts)["f"]
-        for guard in ((3, 0, 0), (9, 0, 0), (5, 0, 0), (-2, 0, 0), (3, 1, 0), (3, -1, 0), (3, 0, -1)):
-            state = ((), (None,), (guard,))
-            told = [paper[0], state, (("int",), *state[1:]), paper[3], paper[4]]
-            self.assertIs(paper_right(codes, sorts, {"f": told}), False)
-        state = ((), (None,), ())
-        self.assertIs(paper_right(codes, sorts, {"f": [paper[0], state, (("int",), (None,), ()), *paper[3:]]}), True)
+        for guard, wanted in (
+                ((3, 0, 0), True), ((3, 1, 0), True), ((3, 0, 4), True), ((0, 0, 0), True), ((4, 0, 0), False),
+                ((5, 0, 0), False), ((9, 0, 0), False), ((-2, 0, 0), False), ((-5, 0, 0), False), ((3, 2, 0), False),
+                ((3, -1, 0), False), ((3, -2, 0), False), ((3, 0, -1), False)):
+            with self.subTest(guard=guard):
+                state = ((), (None, None), (guard,))
+                told = [paper[0], state, (("int",), *state[1:]), paper[3], paper[4]]
+                self.assertIs(paper_right(codes, sorts, {"f": told}), wanted)
+        told[2] = (("int",), (None, None), ())
+        self.assertIs(paper_right(codes, sorts, {"f": told}), False)
 
     def test_code_otherwise(self):
         for code in (code_of([], 2, 1), code_of(END, 0, 1), code_of(END, 3, 2), code_of([("get", 5), *END], 3, 1)):

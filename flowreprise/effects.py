@@ -1,6 +1,7 @@
 """What functions may ask for, and how they may fail."""
 
 from flowreprise.calls import callees, calls_of, is_in_ring, reached_from
+from flowreprise.failures import is_told_code
 from flowreprise.places import rows_of
 from flowreprise.values import show_type
 
@@ -9,8 +10,6 @@ FAILS_BY_QUOTIENT = "fails 1"
 FAILS_BY_BOUND = "fails 2"
 FAILS_BY_INDEX = "fails 3"
 FAILS_BY_DEPTH = "fails 4"
-LEAST_CODE = 100
-GREATEST_CODE = 999
 
 
 def is_failing(effect):
@@ -87,7 +86,7 @@ def _awaited(tree):
 def _failing_by(tree):
     if tree[0] != "int":
         return FAILS
-    if LEAST_CODE <= tree[1] <= GREATEST_CODE:
+    if is_told_code(tree[1]):
         return f"fails {tree[1]}"
     return FAILS_BY_BOUND
 

@@ -1,11 +1,8 @@
 """What operations make of values: a value, or a failure with a code."""
 
+from flowreprise.failures import NO_ITEM, NO_QUOTIENT, TOO_GREAT
 from flowreprise.values import (
     MOST_DEPTH, MOST_ITEMS, MOST_LETTERS, MOST_NUMBER, fits, is_bounded, is_type, known_type, list_depth)
-
-NO_QUOTIENT = 1
-TOO_GREAT = 2
-NO_ITEM = 3
 
 
 def _number(n):

@@ -183,6 +183,46 @@ class Maker:
         return ("op", sign, part(kind), part(kind))
 
 
+def spots(thing, path=()):
+    """The paths of all expressions in the statements of a body, of all bodies, and of all statements."""
+    rows = []
+    for k, row in enumerate(thing):
+        rows.append(("row", path + (k,)))
+        for n, part in enumerate(row):
+            if isinstance(part, tuple):
+                rows += tree_spots(part, path + (k, n))
+            elif isinstance(part, list):
+                rows += spots(part, path + (k, n))
+    return rows
+
+
+def tree_spots(tree, path):
+    rows = [("tree", path)]
+    for n, part in enumerate(tree[1:], 1):
+        if isinstance(part, list):
+            rows += [row for k, inner in enumerate(part) for row in tree_spots(inner, path + (n, k))]
+        elif isinstance(part, tuple) and part and part[0] != "list" or isinstance(part, tuple) and len(part) == 3:
+            rows += tree_spots(part, path + (n,))
+    return rows
+
+
+def part_at(thing, path):
+    for k in path:
+        thing = thing[k]
+    return thing
+
+
+def changed(thing, path, change):
+    """A copy in which what stands at a path has been given to a function that may make several things of it."""
+    if len(path) == 1 and isinstance(thing, list):
+        return thing[:path[0]] + change(thing[path[0]]) + thing[path[0] + 1:]
+    if not path:
+        return change(thing)[0]
+    rows = list(thing)
+    rows[path[0]] = changed(thing[path[0]], path[1:], change)
+    return tuple(rows) if isinstance(thing, tuple) else rows
+
+
 def kind_words(kind):
     return ["[", *kind_words(kind[1]), "]"] if isinstance(kind, tuple) else [kind]
 

@@ -53,6 +53,18 @@ INTERFACE = {
         "ending": "program", "bounded": "program", "most_steps": "program", "step_paper": "program",
         "paper_holds": "program paper"},
     "trees": {"read_program": "text", "read_expression": "text"},
+    "checking": {"check_program": "program", "type_of_expression": "program names tree"},
+    "machine": {
+        "Machine": "codes function values", "Machine.step": "self", "Machine.run": "self most",
+        "Machine.outcome": "self", "Machine.answer": "self answer", "Machine.call_off": "self", "Machine.frames": "self",
+        "Machine.saved": "self", "resumed": "codes saved"},
+    "revising": {
+        "matched": "old fresh signatures", "match_right": "old fresh signatures paper",
+        "carried": "old fresh signatures paper saved"},
+    "ending": {
+        "circles": "pairs", "prove_end": "code signatures", "end_right": "code signatures paper",
+        "turns_left": "code head slots"},
+    "states": {"State": "", "State.apply": "self event", "state_of": "events"},
 }
 
 
@@ -185,8 +197,12 @@ class TestInterface(unittest.TestCase):
             module = importlib.import_module("flowreprise." + name)
             for function, params in rows.items():
                 with self.subTest(name=name, function=function):
-                    told = getattr(module, function)
+                    owner, _, method = function.partition(".")
+                    told = getattr(module, owner)
                     self.assertEqual(told.__module__, module.__name__)
+                    if method:
+                        # A method is defined in the class itself, not in a base class.
+                        told = vars(told)[method]
                     self.assertEqual(list(inspect.signature(told).parameters), params.split())
 
 

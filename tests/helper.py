@@ -32,6 +32,11 @@ def check_untouched(case, function, *arguments):
     return told
 
 
+def told_of(state):
+    """The moment of a state, and all attributes of its flows."""
+    return state.moment, {number: dict(vars(flow)) for number, flow in state.flows.items()}
+
+
 def random_value(rng, kind, small=False):
     """A value of a type, with bounds among them."""
     if kind == "int":
@@ -572,6 +577,8 @@ class Stepping:
         elif word == "ask":
             stack.append(self.ask(row, stack))
         elif word == "list":
+            if row[2] > 20:
+                raise Failure(2)
             stack.append(("list", tuple(self.top(stack, row[2]))))
         else:
             many = 2 if word in ("op", "item") else 1

@@ -3,7 +3,7 @@ import random
 import unittest
 
 from flowreprise.states import State, state_of
-from tests.helper import mutable_ids
+from tests.helper import mutable_ids, told_of
 
 ONE, TEXT = ("int", 1), ("text", "a")
 FRESH = {
@@ -12,32 +12,27 @@ FRESH = {
 BEGIN = ("begin", 1, "f", [ONE], None)
 
 
-def told(state):
-    """All attributes of a state and of its flows."""
-    return state.moment, {number: dict(vars(flow)) for number, flow in state.flows.items()}
-
-
 class TestEvents(unittest.TestCase):
     def check(self, events, moment, **more):
         """Checks the state behind events of the flow 1, by what is otherwise than at its beginning."""
-        self.assertEqual(told(state_of([BEGIN, *events])), (moment, {1: {**FRESH, **more}}))
+        self.assertEqual(told_of(state_of([BEGIN, *events])), (moment, {1: {**FRESH, **more}}))
 
     def test_no_events(self):
-        self.assertEqual(told(State()), (0, {}))
-        self.assertEqual(told(state_of([])), (0, {}))
+        self.assertEqual(told_of(State()), (0, {}))
+        self.assertEqual(told_of(state_of([])), (0, {}))
 
     def test_ticks(self):
-        self.assertEqual(told(state_of([("tick", 5)])), (5, {}))
-        self.assertEqual(told(state_of([("tick", 5), ("tick", 5), ("tick", 900)])), (900, {}))
+        self.assertEqual(told_of(state_of([("tick", 5)])), (5, {}))
+        self.assertEqual(told_of(state_of([("tick", 5), ("tick", 5), ("tick", 900)])), (900, {}))
 
     def test_beginnings(self):
         self.check([], 0)
         self.check([("tick", 3)], 3)
-        self.assertEqual(told(state_of([("begin", 1, "g", [], None), ("begin", 2, "f", [ONE], None)])), (
+        self.assertEqual(told_of(state_of([("begin", 1, "g", [], None), ("begin", 2, "f", [ONE], None)])), (
             0, {1: {**FRESH, "function": "g", "given": []}, 2: FRESH}))
 
     def test_children(self):
-        self.assertEqual(told(state_of([BEGIN, ("begin", 2, "g", [TEXT, ONE], 1), ("begin", 3, "f", [ONE], 2)])), (0, {
+        self.assertEqual(told_of(state_of([BEGIN, ("begin", 2, "g", [TEXT, ONE], 1), ("begin", 3, "f", [ONE], 2)])), (0, {
             1: {**FRESH, "child": 2}, 2: {**FRESH, "function": "g", "given": [TEXT, ONE], "parent": 1, "child": 3},
             3: {**FRESH, "parent": 2}}))
 
@@ -79,14 +74,14 @@ class TestEvents(unittest.TestCase):
                 [("attempt", 1, 1), ("sent", 1), ("lost", 1, 6), ("attempt", 1, 2), ("sent", 1)]):
             self.check([*rows, answer], 0, answers=[("failed", 404)])
         state = state_of([BEGIN, ("begin", 2, "f", [ONE], 1), answer])
-        self.assertEqual(told(state), (0, {1: {**FRESH, "answers": [("failed", 404)]}, 2: {**FRESH, "parent": 1}}))
+        self.assertEqual(told_of(state), (0, {1: {**FRESH, "answers": [("failed", 404)]}, 2: {**FRESH, "parent": 1}}))
         self.check([answer, ("answer", 1, ("ok", ONE), None), ("due", 1, 3)], 0, due=3,
                    answers=[("failed", 404), ("ok", ONE)])
 
     def test_flows_of_their_own(self):
         state = state_of([BEGIN, ("begin", 2, "f", [ONE], None), ("due", 1, 5), ("signal", 2, "go", ONE), ("off", 1),
                           ("attempt", 2, 1), ("sent", 2)])
-        self.assertEqual(told(state)[1], {
+        self.assertEqual(told_of(state)[1], {
             1: {**FRESH, "due": 5, "is_off": True},
             2: {**FRESH, "signals": [("go", ONE)], "attempt": 1, "since": 0, "is_sent": True}})
 
@@ -120,8 +115,8 @@ class TestSharing(unittest.TestCase):
             for event in events:
                 state.apply(event)
                 self.assertIsNone(begun.apply(event))
-            self.assertEqual(told(state), told(state_of(events)))
-            self.assertEqual(told(begun), told(state))
+            self.assertEqual(told_of(state), told_of(state_of(events)))
+            self.assertEqual(told_of(begun), told_of(state))
 
 
 if __name__ == "__main__":

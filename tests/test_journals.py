@@ -1,0 +1,102 @@
+import random
+import unittest
+
+from flowreprise.forms import encode
+from flowreprise.journals import Journal, check_of, read_records, record_of
+from tests.helper import check_untouched
+from tests.test_forms import data_of, same
+
+
+def checked(text):
+    """The check number of a text by the words of point 74."""
+    number = 7
+    for letter in text:
+        number = (number * 33 + ord(letter)) % 4294967291
+    return number
+
+
+class TestRecords(unittest.TestCase):
+    def test_check_numbers(self):
+        self.assertEqual(check_of(""), 7)
+        self.assertEqual(check_of("a"), 7 * 33 + 97)
+        self.assertEqual(check_of("ab"), (7 * 33 + 97) * 33 + 98)
+        self.assertEqual(check_of("z" * 50), checked("z" * 50))
+        self.assertLess(check_of("~" * 50), 4294967291)
+
+    def test_records(self):
+        self.assertEqual(record_of(None), f"(i1;)z(i{7 * 33 + 122};)")
+        for data in ("", [], ("tick", 5), [1, (True, None)]):
+            body = encode(data)
+            record = check_untouched(self, record_of, data)
+            self.assertEqual(record, f"(i{len(body)};){body}(i{checked(body)};)")
+            self.assertEqual(read_records(record), ([data], len(record)))
+
+    def test_several_and_cut_off(self):
+        for seed in range(60):
+            rng = random.Random(seed)
+            rows = [data_of(rng, 2) for _ in range(rng.randrange(4))]
+            records = [record_of(data) for data in rows]
+            text = "".join(records)
+            self.assertTrue(same(read_records(text), (rows, len(text))))
+            for cut in range(len(text)):
+                whole = [k for k in range(len(rows) + 1) if len("".join(records[:k])) <= cut][-1]
+                told = check_untouched(self, read_records, text[:cut])
+                self.assertTrue(same(told, (rows[:whole], len("".join(records[:whole])))))
+
+    def test_records_that_are_not_right(self):
+        good = record_of(["a"])
+        for wrong in (
+                "", "x", "(i1;)", "(i1;)z", "(i1;)z(i5;)", "(i2;)z(i353;)", "(i01;)z(i353;)", "(i1;)z(i0353;)",
+                "[i1;]z(i353;)", "(i1;)z[i353;]", "(i1;z)z(i353;)", "(t1:1)z(i353;)", "(y)z(i353;)", "(i-1;)z(i353;)",
+                "i1;z(i353;)", f"(i1;)x(i{checked('x')};)", f"(i0;)(i{checked('')};)", f"(i2;)zz(i{checked('zz')};)",
+                " " + good, "(i99999999999;)z"):
+            self.assertEqual(read_records(wrong), ([], 0), wrong)
+            self.assertEqual(read_records(good + wrong), ([["a"]], len(good)), wrong)
+        self.assertEqual(read_records("(i1;)z(i353;)"), ([None], 13))
+
+
+class TestJournals(unittest.TestCase):
+    def test_new_one(self):
+        journal = Journal()
+        self.assertEqual((journal.text, journal.safe), ("", 0))
+        self.assertEqual(journal.recover(), [])
+
+    def test_writing_and_making_safe(self):
+        journal = Journal()
+        journal.append(("a", 1))
+        self.assertEqual((journal.text, journal.safe), (record_of(("a", 1)), 0))
+        journal.sync()
+        journal.append([2])
+        self.assertEqual(journal.text, record_of(("a", 1)) + record_of([2]))
+        self.assertEqual(journal.safe, len(record_of(("a", 1))))
+
+    def test_falls(self):
+        first, second, third = record_of("one"), record_of("two"), record_of("three")
+        for kept in range(len(second + third) + 5):
+            journal = Journal()
+            journal.append("one")
+            journal.sync()
+            journal.append("two")
+            journal.append("three")
+            journal.fall(kept)
+            self.assertEqual(journal.text, (first + second + third)[:len(first) + kept])
+            self.assertEqual(journal.safe, len(first))
+            wanted = ["one"] + ["two"] * (kept >= len(second)) + ["three"] * (kept >= len(second + third))
+            self.assertEqual(journal.recover(), wanted)
+            self.assertEqual(journal.text, "".join(record_of(data) for data in wanted))
+            self.assertEqual(journal.safe, len(journal.text))
+            journal.append("four")
+            journal.fall(0)
+            self.assertEqual(journal.recover(), wanted)
+
+    def test_data_are_not_shared(self):
+        journal, data = Journal(), [1, [2]]
+        journal.append(data)
+        data[1].append(3)
+        self.assertEqual(journal.recover(), [[1, [2]]])
+        journal.recover()[0].append(5)
+        self.assertEqual(journal.recover(), [[1, [2]]])
+
+
+if __name__ == "__main__":
+    unittest.main()

@@ -48,8 +48,8 @@ def _ordered_by_ends(after):
     return order
 
 
-def _collected(before, start, seen):
-    """Returns the places not seen before from which pairs lead to one, and takes note of them."""
+def _collected(leads, start, seen):
+    """Returns the places not seen before that can be reached from one, and takes note of them."""
     members = []
     waiting = [start]
     while waiting:
@@ -57,7 +57,7 @@ def _collected(before, start, seen):
         if at not in seen:
             seen[at] = True
             members.append(at)
-            waiting.extend(before[at])
+            waiting.extend(leads[at])
     return members
 
 
@@ -110,18 +110,13 @@ class Flowing:
         puts = [at for at in inside if self.rows[at][0] == "put" and self.rows[at][1] in slots]
         if not all([self.rows[at][1] == slot and self.counts(at) for at in puts]):
             return False
-        return head not in _reached([pair for pair in pairs if pair[0] not in puts], head + 1)
+        after = _neighbours([pair for pair in pairs if pair[0] not in puts])
+        return head not in _collected(after, head + 1, {})
 
 
 def _is_step(instruction):
     """Returns whether an instruction pushes an integer by which a slot may count."""
     return instruction[0] == "push" and instruction[1][0] == "int" and instruction[1][1] >= 1
-
-
-def _reached(pairs, start):
-    """Returns the list of the places that pairs reach from one."""
-    after = _neighbours(pairs)
-    return _collected(after, start, {}) if start in after else []
 
 
 def _pairs_of(pairs, circle):

@@ -39,7 +39,7 @@ def read_records(text):
 def _read_record(text, start):
     """Reads the record at a place, and returns its data and the place behind it."""
     size, first = _read_alone(text, start)
-    if size < 0 or first + size > len(text):
+    if size < 0:
         raise FormError(start)
     body = text[first:first + size]
     check, behind = _read_alone(text, first + size)

@@ -68,7 +68,7 @@ class Pairing:
             if self.places.setdefault(place, fresh_place) != fresh_place:
                 self.wrong[place] = True
 
-    def find(self):
+    def follow_all(self):
         """Finds all places that belong to new ones, the least one first."""
         seen = {}
         while len(seen) < len(self.places):
@@ -100,10 +100,11 @@ def matched(old, fresh, signatures):
         if _is_shared(name, signatures):
             params = {slot: slot for slot in range(old[name][2])}
             pairs[name] = Pairing(old[name], fresh[name], states[name], {0: 0}, params)
-            pairs[name].find()
-    pairs = _with_beginnings(pairs)
-    while _leave_out_wrong(pairs):
-        pairs = _with_beginnings(pairs)
+            pairs[name].follow_all()
+    is_new = True
+    while is_new:
+        pairs = {name: pairs[name] for name in pairs if 0 in pairs[name].places}
+        is_new = _leave_out_wrong(pairs)
     return {name: (pairs[name].places, pairs[name].slots) for name in pairs}
 
 
@@ -111,11 +112,6 @@ def _is_shared(name, signatures):
     """Returns whether both programs have a function with the same signature."""
     one, other = signatures
     return name in one and name in other and one[name] == other[name]
-
-
-def _with_beginnings(pairs):
-    """Returns the functions that are in a match, which are those with the place 0."""
-    return {name: pairs[name] for name in pairs if 0 in pairs[name].places}
 
 
 def _leave_out_wrong(pairs):

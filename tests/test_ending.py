@@ -191,12 +191,19 @@ class TestProofs(Case):
                 for step in ("k + 1", "k + 2", "1 + k", "k + 1000000000000"):
                     self.check_proof(f"let k = 0; while k {sign} {bound} {{ set k = {step}; }}", [(5, [])])
 
+    def test_at_the_beginning(self):
+        self.check_proof("while n < m { set n = n + 1; }", [(3, [])])
+        self.check_proof("while m <= 5 { set m = 1 + m; }", [(3, [])])
+        rows = [("get", 0), ("push", ("int", 1)), ("op", "+"), ("put", 0), ("get", 0), ("get", 1), ("op", "<"),
+                ("unless", 9), ("jump", 0), ("get", 0), ("return",)]
+        self.assertEqual(self.proof(("code", "f", 2, 2, rows), {"f": (["int", "int"], "int")}), [(7, [])])
+
     def test_that_do_not_count(self):
         for step in ("k + 0", "0 + k", "k - 1", "k * 2", "k + n", "n + 1", "k + k", "1 + 1", "1", "k", "-k + 1",
                      "k + (0 + 1)", "k + 1 + 0", "k + -1"):
             self.check_proof(f"let k = 0; while k < n {{ set k = {step}; }}", None)
         for test in ("n < k", "9 < k", "k = n", "k != n", "k < k", "not (k < n)", "k + 1 < n", "k < n + 1", "true",
-                     "k < -1", "k < n and true", "m < n"):
+                     "k < -1", "k < n and true", "m < n", "-k < n", "-k < 9", "[int: k][0] < n"):
             self.check_proof(f"let k = 0; while {test} {{ set k = k + 1; }}", None)
         self.check_proof("while n < m { }", None)
         self.check_proof("while n < m { do n + 1; }", None)
@@ -231,6 +238,13 @@ class TestProofs(Case):
             slot = {"n": 0, "m": 1, "k": 2, "c": 3}[name]
             rows = [("guard", row[1], slot) if row[0] == "guard" else row for row in code[4]]
             self.assertEqual(self.proof((*code[:4], rows), sorts), wanted, name)
+
+    def test_failures_from_outside(self):
+        # The code is put into the slot before the circle is entered.
+        rows = [("guard", 6, 2), ("get", 0), ("get", 1), ("op", "/"), ("put", 2), ("unguard",), ("get", 2), ("get", 0),
+                ("op", "<"), ("unless", 15), ("get", 2), ("push", ("int", 1)), ("op", "+"), ("put", 2), ("jump", 6),
+                ("push", ("int", 0)), ("return",)]
+        self.assertEqual(self.proof(("code", "f", 2, 3, rows), {"f": (["int", "int"], "int")}), [(9, [])])
 
     def test_nested(self):
         inner = "let j = 0; while j < m { set j = j + 1; }"
@@ -342,7 +356,8 @@ class LoopMaker:
         if way < 0.2:
             return f"try {{ {self.body(depth + 1)} do n / m; }} catch {self.fresh()} {{ {self.body(depth + 1)} }}"
         if way < 0.3:
-            return rng.choice(["set n = n + 1;", "do n + m;", "set m = 2;", "do await act pay(n): int;"])
+            return rng.choice([
+                "set n = n + 1;", "do n + m;", "set m = 2;", "do await act pay(n): int;", "if n < m { return 1; }"])
         name = self.fresh()
         step = rng.choice([f"{name} + 1", f"{name} + 2", f"3 + {name}"] * 3 + [f"{name} + 0", f"{name} - 1", "n"])
         bound = rng.choice(["n", "m", "4", "7"])
@@ -385,6 +400,15 @@ class TestPapers(Case):
                             "set k = k + 1; set j = j + 1; }")
         self.assertEqual(self.proof(code, sorts), [(7, [])])
         self.assertTrue(self.right(code, sorts, [(11, [])]))
+
+    def test_tests_that_lead_out(self):
+        # The place behind the second test is none of the circle, so this test bounds nothing.
+        code, sorts = loops("let k = 0; while k < n { set k = k + 1; if k < m { return 1; } }")
+        self.assertEqual(code[4][13], ("unless", 17))
+        self.assertTrue(self.right(code, sorts, [(5, [])]))
+        self.assertFalse(self.right(code, sorts, [(13, [(5, [])])]))
+        self.assertFalse(self.right(code, sorts, [(13, [])]))
+        self.assertIsNone(self.proof(*loops("let k = 0; while true { set k = k + 1; if k < m { return 1; } }")))
 
     def test_no_loops(self):
         code, sorts = loops("")

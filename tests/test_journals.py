@@ -49,7 +49,7 @@ class TestRecords(unittest.TestCase):
                 "", "x", "(i1;)", "(i1;)z", "(i1;)z(i5;)", "(i2;)z(i353;)", "(i01;)z(i353;)", "(i1;)z(i0353;)",
                 "[i1;]z(i353;)", "(i1;)z[i353;]", "(i1;z)z(i353;)", "(t1:1)z(i353;)", "(y)z(i353;)", "(i-1;)z(i353;)",
                 "i1;z(i353;)", f"(i1;)x(i{checked('x')};)", f"(i0;)(i{checked('')};)", f"(i2;)zz(i{checked('zz')};)",
-                " " + good, "(i99999999999;)z"):
+                " " + good, "(i99999999999;)z", "(i-14;)z(i353;)", "(i-15;)z(i353;)x"):
             self.assertEqual(read_records(wrong), ([], 0), wrong)
             self.assertEqual(read_records(good + wrong), ([["a"]], len(good)), wrong)
         self.assertEqual(read_records("(i1;)z(i353;)"), ([None], 13))

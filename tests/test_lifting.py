@@ -138,6 +138,12 @@ class TestRuns(unittest.TestCase):
         for row in (("return",), ("fail",)):
             self.check([get, get, row, get, get, end], [(0, 2), (3, 5)])
 
+    def test_code_without_an_end(self):
+        # The last place is only where a way ends, as nothing follows it.
+        for many, wanted in ((1, []), (2, []), (3, [(0, 2)]), (4, [(0, 3)])):
+            self.check([("push", ONE)] * many, wanted)
+        self.check([("get", 0), ("jump", 0), ("push", ONE), ("drop",)], [])
+
     def test_places_to_which_something_leads(self):
         get, end = ("get", 0), ("return",)
         for row in ("jump", "unless", "guard"):

@@ -10,7 +10,7 @@ from flowreprise.operations import is_of, is_value
 from flowreprise.trees import read_program
 from flowreprise.verifying import verify
 from tests.helper import (
-    KINDS, Failure, Maker, Meaning, Pause, Stepping, answers_of, check_untouched, mutable_ids, random_value)
+    Failure, Maker, Meaning, Pause, Stepping, answers_of, mutable_ids, random_value)
 
 ONE, TWO, NONE = ("int", 1), ("int", 2), ("nothing",)
 TRUE, FALSE = ("bool", True), ("bool", False)

@@ -179,6 +179,8 @@ class TestStatements(unittest.TestCase):
         # No checked program has one, but a run of it has a meaning.
         program = [("fn", "f", [], "nothing", [("do", ("int", 1))])]
         self.assertEqual(run(program, "f", [], [], 9), (("done", NONE), []))
+        call = ("fn", "g", [("n", "int")], "int", [("do", ("call", "f", [])), ("return", ("var", "n"))])
+        self.assertEqual(run([*program, call], "g", [ONE], [], 9), (("done", ONE), []))
 
     def test_codes_of_fail(self):
         for n, code in ((100, 100), (999, 999), (404, 404), (99, 2), (1000, 2), (0, 2), (-100, 2), (10 ** 12, 2), (5, 2)):
@@ -201,6 +203,10 @@ class TestStatements(unittest.TestCase):
         # What was worked out of an expression before it failed is forgotten.
         self.check("let a = 1; try { set a = 2 * (3 + [int: 4, g(5)][0]); } catch c { set a = a + c; } return 10 * a;",
                    ("done", whole(3010)), others="fn g(n: int): int { return 1 + h(n); } fn h(n: int): int { fail 300; }")
+
+        for first in ("5 + 1 / 0", "[int: 6, 7, h(6)][0]"):
+            self.check("return 100 + g(n);", ("done", whole(107)), others=(
+                "fn g(n: int): int { try { do %s; } catch c { return n; } return 2; } fn h(n: int): int { fail n; }" % first))
 
     def test_failed_answers(self):
         self.check("try { do now; } catch c { return c; } return 0;", ("done", whole(5)), [("failed", 5)])

@@ -252,6 +252,9 @@ class TestMatching(Case):
         fresh = "fn f(): int { let a = 1; set a = 2; return a; }"
         self.assertEqual(self.match_of(old, fresh)["f"], (lines_of(range(4)), {0: 0}))
         self.assertEqual(self.match_of(fresh, old)["f"], (lines_of(range(4)), {0: 0}))
+        old, fresh = old.replace("return a", "return 5"), fresh.replace("return a", "return 5")
+        self.assertEqual(self.match_of(old, fresh)["f"], (lines_of(range(4)), {0: 0}))
+        self.assertEqual(self.match_of(fresh, old)["f"], (lines_of(range(4)), {0: 0}))
         # A parameter belongs to itself, and to no other slot.
         old = "fn f(a: int, b: int): int { set a = 1; return b; }"
         fresh = "fn f(a: int, b: int): int { set b = 1; return a; }"
@@ -266,6 +269,10 @@ class TestMatching(Case):
         fresh = "fn m(): int { return 1; } fn g(a: text): int { return 1; } fn h(): text { return \"\"; } " \
                 "fn k(): int { return 2; }"
         self.assertEqual(self.match_of(old, fresh), {"k": ({0: 0}, {})})
+        for name in "fghkmz":
+            paper = {name: ({0: 0}, {0: 0} if name == "g" else {})}
+            told = check_untouched(self, match_right, *read_both(old, fresh), paper)
+            self.assertIs(told, name == "k")
         self.assertEqual(self.match_of("fn f(): int { return 1; }", "fn g(): int { return 1; }"), {})
 
     def test_ways_of_tests(self):
@@ -335,19 +342,23 @@ class TestMatching(Case):
 
     def test_guards_to_one_place(self):
         # Two guards with one old place: the second one leads elsewhere in the new code.
-        rows = [("get", 0), ("unless", 6), ("guard", 10, 1), ("push", ("int", 1)), ("drop",), ("jump", 9),
-                ("guard", 10, 1), ("push", ("int", 2)), ("drop",), ("ask", "now"), ("push", ("int", 3)), ("return",)]
-        rows[9:] = [("unguard",), ("push", ("int", 3)), ("return",)]
-        old = {"f": ("code", "f", 1, 2, rows)}
+        rows = [("get", 0), ("unless", 6), ("guard", 12, 1), ("push", ("int", 1)), ("put", 2), ("jump", 9),
+                ("guard", 12, 1), ("push", ("int", 2)), ("put", 3), ("unguard",), ("ask", "now"), ("return",),
+                ("push", ("int", 3)), ("return",)]
+        old = {"f": ("code", "f", 1, 4, rows)}
         sorts = {"f": (["bool"], "int")}
         self.assertEqual(self.match(old, old, (sorts, sorts))["f"][0], lines_of(range(12)))
         for at in (2, 6):
-            other = list(rows)
-            other[at] = ("guard", 11 - 1 + 2, 1)
-            other += [("push", ("int", 3)), ("return",)]
-            fresh = {"f": ("code", "f", 1, 2, other)}
-            paper = self.match(old, fresh, (sorts, sorts))["f"][0]
-            self.assertEqual(paper, lines_of([0, 1, 2, 3, 4, 5]))
+            other = rows + [("push", ("int", 3)), ("return",)]
+            other[at] = ("guard", 14, 1)
+            fresh = {"f": ("code", "f", 1, 4, other)}
+            told = self.match(old, fresh, (sorts, sorts))["f"]
+            self.assertEqual(told, (lines_of(range(6)), {0: 0, 1: 1, 2: 2}))
+            # No failure tells the guards apart, but both of them have one old place.
+            paper = {"f": (lines_of(range(12)), {slot: slot for slot in range(4)})}
+            self.assertIs(match_right(old, fresh, (sorts, sorts), paper), False)
+            self.assertIs(match_right(old, old, (sorts, sorts), paper), True)
+            self.assertFalse(Right(old, fresh, (sorts, sorts), paper).told())
 
 
 def random_change(rng, program):
@@ -552,6 +563,19 @@ class TestCarried(Case):
         machine.answer(("ok", ("int", 1)))
         machine.run(2)
         self.assertIsNone(self.carry(old, fresh, sorts, paper, machine))
+
+    def test_waiting_in_front_of_a_place_that_is_left_out(self):
+        # The other way to the place behind the request is not the same, but this one is.
+        rows = [("get", 0), ("unless", 4), ("push", ("int", 1)), ("jump", 5), ("ask", "now"), ("return",)]
+        old, fresh = ({"f": ("code", "f", 1, 1, rows[:2] + [("push", ("int", n))] + rows[3:])} for n in (1, 2))
+        sorts = {"f": (["bool"], "int")}
+        paper = self.match(old, fresh, (sorts, sorts))
+        self.assertEqual(paper, {"f": (lines_of([0, 1, 2, 4]), {0: 0})})
+        machine, other = Machine(old, "f", [("bool", False)]), Machine(fresh, "f", [("bool", False)])
+        self.assertEqual(machine.run(9), other.run(9))
+        self.assertEqual(self.carry(old, fresh, (sorts, sorts), paper, machine), other.saved())
+        machine.answer(("ok", ("int", 1)))
+        self.assertIsNone(self.carry(old, fresh, (sorts, sorts), paper, machine))
 
     def test_slots(self):
         # The slot of a name that is let in a body that has gone belongs to none.

@@ -239,6 +239,13 @@ class TestProofs(Case):
             rows = [("guard", row[1], slot) if row[0] == "guard" else row for row in code[4]]
             self.assertEqual(self.proof((*code[:4], rows), sorts), wanted, name)
 
+    def test_failures_that_lead_out(self):
+        # The code is put into a slot of the test, but the circle is left then.
+        code, sorts = loops("let k = 0; try { while k < n { set k = k + 1; do 1 / m; } } catch c { return 1; }")
+        for slot in range(4):
+            rows = [("guard", row[1], slot) if row[0] == "guard" else row for row in code[4]]
+            self.assertEqual(self.proof((*code[:4], rows), sorts), [(6, [])])
+
     def test_failures_from_outside(self):
         # The code is put into the slot before the circle is entered.
         rows = [("guard", 6, 2), ("get", 0), ("get", 1), ("op", "/"), ("put", 2), ("unguard",), ("get", 2), ("get", 0),

@@ -4,7 +4,7 @@ from flowreprise.failures import is_told_code
 from flowreprise.operations import is_of
 from flowreprise.requests import kind_wanted
 from flowreprise.states import state_of
-from flowreprise.steps import MOST_FLOWS, next_event, outcome_of
+from flowreprise.steps import MOST_FLOWS, next_event, outcome_of, settle_flows, task_of
 
 
 class Engine:
@@ -76,24 +76,16 @@ class Engine:
 
     def turn(self):
         """Makes a turn and returns the list of the tasks that go out."""
-        while self._pass():
-            pass
+        settle_flows(
+            self.state,
+            lambda number: next_event(self.program, self.state, number),
+            lambda event: self._write(event))
         self.journal.sync()
-        tasks = [self._task(number) for number in sorted(self.state.flows) if self._has_task(number)]
+        numbers = [number for number in sorted(self.state.flows) if self._has_task(number)]
+        tasks = [task_of(self.program, self.state, number) for number in numbers]
         for task in tasks:
             self._write(("sent", task[0]))
         return tasks
-
-    def _pass(self):
-        """Goes on with each flow as long as it has a next event, and returns whether there was one."""
-        is_new = False
-        for number in sorted(self.state.flows):
-            event = next_event(self.program, self.state, number)
-            while event is not None:
-                is_new = True
-                self._write(event)
-                event = next_event(self.program, self.state, number)
-        return is_new
 
     def _has_task(self, number):
         """Returns whether the task of a flow goes out: each does once in the life of an engine, as it is sent then."""
@@ -101,11 +93,6 @@ class Engine:
         if flow.end is not None or flow.is_off:
             return False
         return flow.attempt > 0 and flow.lost is None and not flow.is_sent
-
-    def _task(self, number):
-        flow = self.state.flows[number]
-        _, name, value, _ = outcome_of(self.program, flow)[1]
-        return (number, len(flow.answers), flow.attempt, name, value)
 
 
 def is_beginning(program, name, values):

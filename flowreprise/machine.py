@@ -116,6 +116,21 @@ class Machine:
         else:
             self._make(frame, instruction)
 
+    def innermost(self):
+        """Returns the frame that goes on."""
+        return self.calls[-1]
+
+    def depth(self):
+        """Returns how many frames there are."""
+        return len(self.calls)
+
+    def leap(self, place, told, count):
+        """Goes on at a place, with the pair of slots and a stack that so many steps of the frame make."""
+        frame = self.calls[-1]
+        frame.at = place
+        frame.slots, frame.stack = told
+        self.steps += count
+
     def _begin(self, function, values):
         untold = [None] * (self.codes[function][3] - len(values))
         self.calls.append(Frame(function, 0, list(values) + untold, [], []))

@@ -99,3 +99,26 @@ def _attempted(state, number):
     if flow.attempt not in PAUSES:
         return _answered(number, ("failed", flow.lost))
     return ("attempt", number, flow.attempt + 1) if passed >= PAUSES[flow.attempt] else None
+
+
+def task_of(program, state, number):
+    """Returns the task of the last attempt of a flow at the activity for which it waits."""
+    flow = state.flows[number]
+    _, name, value, _ = outcome_of(program, flow)[1]
+    return (number, len(flow.answers), flow.attempt, name, value)
+
+
+def settle_flows(state, next_of, write):
+    """Goes on with all flows of a state as far as there are next events, in passes.
+
+    What is passed tells the next event of a flow, and takes an event in.
+    """
+    is_new = True
+    while is_new:
+        is_new = False
+        for number in sorted(state.flows):
+            event = next_of(number)
+            while event is not None:
+                is_new = True
+                write(event)
+                event = next_of(number)

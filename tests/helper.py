@@ -188,6 +188,61 @@ class Maker:
         return ("op", sign, part(kind), part(kind))
 
 
+class AnyMaker:
+    """Makes random programs and expressions that a text can give, whether their types fit or not."""
+
+    def __init__(self, rng):
+        self.rng = rng
+
+    def name(self):
+        return "".join(self.rng.choice("abz") for _ in range(self.rng.choice([1, 1, 2, 8])))
+
+    def kind(self, most=6):
+        kind = self.rng.choice(["int", "bool", "text", "nothing"])
+        for _ in range(self.rng.choice([0, 0, 0, 1, 2, most])):
+            kind = ("list", kind)
+        return kind
+
+    def trees(self, depth):
+        return [self.tree(depth - 1) for _ in range(self.rng.choice([0, 1, 2, 3]))]
+
+    def tree(self, depth):
+        rng = self.rng
+        part = lambda: self.tree(depth - 1)
+        if depth == 0 or rng.random() < 0.1:
+            return rng.choice([
+                lambda: ("int", rng.choice([0, 7, 10 ** 12])), lambda: random_value(rng, "bool"),
+                lambda: random_value(rng, "text"), lambda: ("nothing",), lambda: ("var", self.name()), lambda: ("now",),
+                lambda: ("list", self.kind(5), []), lambda: ("call", self.name(), []),
+                lambda: ("await", "signal", self.name(), self.kind()), lambda: ("await", "flow", self.name(), [])])()
+        return rng.choice([lambda: ("op", rng.choice(list(LEVELS)), part(), part())] * 8 + [
+            lambda: ("not", part()), lambda: ("neg", part()), lambda: ("item", part(), part()),
+            lambda: ("list", self.kind(5), self.trees(depth)), lambda: ("size", part()), lambda: ("text of", part()),
+            lambda: ("random", part()), lambda: ("call", self.name(), self.trees(depth)),
+            lambda: ("await", "act", self.name(), part(), self.kind()), lambda: ("await", "timer", part()),
+            lambda: ("await", "flow", self.name(), self.trees(depth))])()
+
+    def body(self, depth):
+        return [self.statement(depth) for _ in range(self.rng.choice([0, 1, 2, 3]))]
+
+    def statement(self, depth):
+        rng = self.rng
+        word = rng.choice(["let", "set", "return", "do", "fail", "if", "if", "while", "try"] if depth else ["do", "let"])
+        if word in ("let", "set"):
+            return (word, self.name(), self.tree(3))
+        if word in ("return", "do", "fail"):
+            return (word, self.tree(3))
+        if word == "while":
+            return (word, self.tree(3), self.body(depth - 1))
+        if word == "if":
+            return (word, self.tree(3), self.body(depth - 1), self.body(depth - 1))
+        return (word, self.body(depth - 1), self.name(), self.body(depth - 1))
+
+    def program(self):
+        return [("fn", self.name(), [(self.name(), self.kind()) for _ in range(self.rng.choice([0, 1, 2, 8]))],
+                 self.kind(), self.body(3)) for _ in range(self.rng.choice([1, 1, 2]))]
+
+
 def spots(thing, path=()):
     """The paths of all expressions in the statements of a body, of all bodies, and of all statements."""
     rows = []
@@ -629,3 +684,62 @@ def answers_of(seed, program, many):
         return ("ok", ("int", rng.randint(0, 50)))
 
     return answer
+
+
+def wanted_kind(program, flow):
+    """The type of the answer that a flow waits for, or None."""
+    given = list(flow.answers)
+    outcome = Meaning(program, lambda request: given.pop(0) if given else None, 60).run(flow.function, flow.given)
+    if outcome[0] != "waits" or outcome[1][0] not in ("act", "signal"):
+        return None
+    return outcome[1][-1]
+
+
+def deed_for(rng, world, crashes=0.05):
+    """A deed for a world, chosen by chance."""
+    flows = world.engine.state.flows if world.engine is not None else {}
+    way = rng.random()
+    if world.engine is None:
+        if way < 0.5:
+            return ("open",)
+        if way > crashes + 0.5:
+            return rng.choice([
+                ("begin", rng.choice(world.program)[1], []), ("tick", 3), ("signal", 1, "go", ("int", 1)), ("off", 1),
+                ("bring", 0, ("ok", ("int", 1))), ("turn",), ("end", 1)])
+        way = 0
+    if way < crashes:
+        left = len(world.journal.text) - world.journal.safe
+        return ("crash", rng.choice([0, left, left + 7, rng.randrange(left + 1)]))
+    if way < 0.12:
+        return rng.choice([("open",), ("end", rng.randrange(len(flows) + 3)), ("tick", 0)])
+    if way < 0.25 and len(flows) < 12 or not flows:
+        _, name, params, _, _ = rng.choice(world.program)
+        values = [random_value(rng, kind, True) for _, kind in params]
+        if rng.random() < 0.1:
+            return rng.choice([("begin", name, values + [("int", 1)]), ("begin", "other", values),
+                               ("begin", name, [random_value(rng, rng.choice(KINDS), True) for _ in values])])
+        return ("begin", name, values)
+    if way < 0.45:
+        return ("turn",)
+    if way < 0.6:
+        return ("tick", rng.choice([0, 1, 2, 4, 9, 10, 30]))
+    number = rng.randrange(-1, len(flows) + 3)
+    going = [told for told in flows if flows[told].end is None]
+    if going and rng.random() < 0.8:
+        number = rng.choice(going)
+    if way < 0.63:
+        return ("off", number)
+    if way < 0.75:
+        kind = wanted_kind(world.program, flows[number]) if number in flows else None
+        if kind is None or rng.random() < 0.3:
+            kind = rng.choice(KINDS)
+        return ("signal", number, rng.choice(["go", "stop"]), random_value(rng, kind, True))
+    k = rng.randrange(-2, len(world.tasks) + 2)
+    if world.tasks and rng.random() < 0.8:
+        k = rng.randrange(max(0, len(world.tasks) - 4), len(world.tasks))
+    number = world.tasks[k][1][0] if 0 <= k < len(world.tasks) else 0
+    kind = wanted_kind(world.program, flows[number]) if number in flows else None
+    if kind is None or rng.random() < 0.15:
+        kind = rng.choice(KINDS)
+    return ("bring", k, rng.choice([("ok", random_value(rng, kind, True))] * 3 + [
+        ("failed", rng.choice([99, 100, 404, 999, 1000, 5]))]))

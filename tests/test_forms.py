@@ -1,4 +1,5 @@
 import random
+import re
 import unittest
 
 from flowreprise.errors import FlowError, FormError
@@ -25,6 +26,61 @@ def same(one, other):
     if isinstance(one, (list, tuple)):
         return len(one) == len(other) and all(same(a, b) for a, b in zip(one, other))
     return one == other
+
+
+NUMBER = re.compile(r"(0|-?[1-9][0-9]{0,15});")
+SIZE = re.compile(r"(0|[1-9][0-9]*):")
+SIGNS = "zyni-0;t1:()[]"
+
+
+class Fault(Exception):
+    """The index at which a text is not the written form of data."""
+
+
+def read_by_words(text, at):
+    """The data of the form at a place of a text and the place behind it, by the words of point 73."""
+    letter = text[at:at + 1]
+    if letter in ("z", "y", "n"):
+        return {"z": None, "y": True, "n": False}[letter], at + 1
+    if letter == "i" and NUMBER.match(text, at + 1):
+        told = NUMBER.match(text, at + 1)
+        return int(told.group(1)), told.end()
+    if letter == "t" and SIZE.match(text, at + 1):
+        told = SIZE.match(text, at + 1)
+        end = told.end() + int(told.group(1))
+        if end <= len(text):
+            return text[told.end():end], end
+    if letter in ("i", "t"):
+        raise Fault(at + 1)
+    if letter not in ("(", "["):
+        raise Fault(at)
+    items, at = [], at + 1
+    while text[at:at + 1] != {"(": ")", "[": "]"}[letter]:
+        item, at = read_by_words(text, at)
+        items.append(item)
+    return (tuple(items) if letter == "(" else items), at + 1
+
+
+def told_by_words(text):
+    """The data of a text, or the fault in it."""
+    try:
+        data, behind = read_by_words(text, 0)
+        if behind < len(text):
+            raise Fault(behind)
+        return ("data", data)
+    except Fault as fault:
+        return ("fault", fault.args[0])
+
+
+def turns_of(text):
+    """A text with each character turned, left out, put in twice, and each beginning of it."""
+    for at in range(len(text)):
+        for letter in SIGNS + "2x~":
+            yield text[:at] + letter + text[at + 1:]
+            yield text[:at] + letter + text[at:]
+        yield text[:at] + text[at + 1:]
+        yield text[:at] + text[at] + text[at:]
+        yield text[:at]
 
 
 class TestForms(unittest.TestCase):
@@ -54,6 +110,52 @@ class TestForms(unittest.TestCase):
                 ("t:", 1), ("t1:", 1), ("t-1:", 1), ("t-0:", 1), ("t01:a", 1), ("t2:a", 1), ("t1;a", 1), ("t1:ab", 4),
                 ("(t5:abc)", 2), ("(zi)", 3), ("(t1:a", 5), ("t99999999999999999999:a", 1), ("i" + "1" * 9000 + ";", 1)):
             self.assertEqual(self.fault(text), at, text)
+
+    def check_any(self, text):
+        """Checks what is read from a text that may be no written form."""
+        word, told = told_by_words(text)
+        if word == "fault":
+            self.assertEqual(self.fault(text), told, text)
+        else:
+            data = check_untouched(self, decode, text)
+            self.assertTrue(same(data, told), text)
+            self.assertEqual(encode(data), text)
+
+    def test_each_kind_alone_and_in_others(self):
+        kinds = [None, True, False, 0, 1, -1, 10 ** 15, 10 ** 16 - 1, 1 - 10 ** 16, "", "a", "(i1;)", "t3:abc", "z", SIGNS,
+                 "".join(chr(k) for k in range(32, 127)), "a\nb", (), [], ("a", 5), ["a", [None]]]
+        for data in kinds:
+            for whole in (data, (data,), [data], (data, data), [data, (data, [data])], ("x", data, [])):
+                text = check_untouched(self, encode, whole)
+                self.assertTrue(same(check_untouched(self, decode, text), whole))
+                self.assertTrue(same(told_by_words(text)[1], whole))
+        for one in kinds:
+            for other in kinds:
+                self.assertTrue(same(decode(encode([one, (other,), one])), [one, (other,), one]))
+
+    def test_forms_of_data_are_told_apart(self):
+        rows = [None, True, False, 0, 1, "", "z", "0", "i0;", (), [], (None,), [None], ((),), ([],), [()], (0,), [0], ("",)]
+        self.assertEqual(len({encode(data) for data in rows}), len(rows))
+
+    def test_turned_forms(self):
+        for data in (None, True, 7, -30, 10 ** 16 - 1, 1 - 10 ** 16, "", "ab", "i1;", "t1:a", (), [], (None, 0), [["z"], ()],
+                     ("a", [-3, None, True], ""), ("begin", 1, "main", [("int", 5), ("list", ())], None)):
+            text = encode(data)
+            for other in turns_of(text):
+                self.check_any(other)
+                self.check_any(other + ")")
+
+    def test_random_texts(self):
+        for seed in range(4000):
+            rng = random.Random(seed)
+            self.check_any("".join(rng.choice(SIGNS) for _ in range(rng.randrange(12))))
+        for seed in range(300):
+            rng = random.Random(seed)
+            text = encode(data_of(rng))
+            for _ in range(4):
+                at = rng.randrange(len(text) + 1)
+                text = text[:at] + rng.choice(["", rng.choice(SIGNS)]) + text[at + rng.choice([0, 1]):]
+                self.check_any(text)
 
     def test_deep(self):
         data = None

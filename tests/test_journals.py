@@ -55,6 +55,30 @@ class TestRecords(unittest.TestCase):
         self.assertEqual(read_records("(i1;)z(i353;)"), ([None], 13))
 
 
+    def test_turned_characters(self):
+        rows = [("begin", 1, "main", [("int", 5)], None), ("tick", 10), "(i1;)z(i353;)", [True, None]]
+        records = [record_of(data) for data in rows]
+        text = "".join(records)
+        for at in range(len(text)):
+            whole = [k for k in range(len(rows)) if len("".join(records[:k])) <= at][-1]
+            for letter in "0129()[];:ztyi~ ":
+                if letter != text[at]:
+                    told = read_records(text[:at] + letter + text[at + 1:])
+                    self.assertTrue(same(told, (rows[:whole], len("".join(records[:whole])))), (at, letter))
+            for other in (text[:at] + text[at + 1:], text[:at] + text[at] + text[at:]):
+                found, many = read_records(other)
+                # Where equal characters stand beside each other, another record may be the one that is not right.
+                self.assertIn(len(found), (whole, whole + 1))
+                self.assertEqual(found, rows[:len(found)])
+                self.assertEqual(many, len("".join(records[:len(found)])))
+
+    def test_records_are_read_from_the_beginning(self):
+        one, other = record_of("one"), record_of("other")
+        for before in (" ", "z", "(i1;)", one[1:], one[:-1]):
+            self.assertEqual(read_records(before + other), ([], 0))
+            self.assertEqual(read_records(one + before + other), (["one"], len(one)))
+
+
 class TestJournals(unittest.TestCase):
     def test_new_one(self):
         journal = Journal()
@@ -88,6 +112,44 @@ class TestJournals(unittest.TestCase):
             journal.append("four")
             journal.fall(0)
             self.assertEqual(journal.recover(), wanted)
+
+    def test_several_falls(self):
+        """What was kept is safe behind a recovery, and what was written since then is not."""
+        for seed in range(150):
+            rng = random.Random(seed)
+            journal, known, least = Journal(), [], 0
+            for _ in range(20):
+                way = rng.random()
+                if way < 0.6:
+                    known.append(data_of(rng, 2))
+                    journal.append(known[-1])
+                elif way < 0.75:
+                    journal.sync()
+                    least = len(known)
+                else:
+                    text, safe = journal.text, journal.safe
+                    kept = rng.randrange(len(text) - safe + 3)
+                    journal.fall(kept)
+                    self.assertEqual((journal.text, journal.safe), (text[:safe + kept], safe))
+                    if rng.random() < 0.3:
+                        journal.fall(kept // 2)
+                        self.assertEqual(journal.text, text[:safe + kept // 2])
+                    found = journal.recover()
+                    self.assertTrue(same(found, known[:len(found)]))
+                    self.assertGreaterEqual(len(found), least)
+                    self.assertTrue(text.startswith(journal.text))
+                    known, least = found, len(found)
+                    self.assertEqual(journal.safe, len(journal.text))
+                self.assertEqual(journal.text, "".join(record_of(data) for data in known))
+
+    def test_recovering_without_a_fall(self):
+        journal = Journal()
+        journal.append("one")
+        self.assertEqual(journal.recover(), ["one"])
+        self.assertEqual(journal.safe, len(journal.text))
+        journal.text += "(i4;)"
+        self.assertEqual(journal.recover(), ["one"])
+        self.assertEqual(journal.text, record_of("one"))
 
     def test_data_are_not_shared(self):
         journal, data = Journal(), [1, [2]]

@@ -14,7 +14,7 @@ FOLDER = os.path.dirname(flowreprise.__file__)
 FILES = sorted(name for name in os.listdir(FOLDER) if name != "__pycache__")
 USED_BUILTINS = set(
     "len range enumerate zip min max sum abs sorted reversed int str bool list tuple dict set isinstance ord any all "
-    "divmod ValueError".split())
+    "divmod repr ValueError".split())
 METHODS = set(
     "append clear copy count endswith extend find get index insert isalnum isalpha isdigit islower isspace isupper "
     "items join keys ljust lower lstrip partition pop remove replace reverse rfind rjust rpartition rsplit rstrip "
@@ -31,7 +31,7 @@ UNUSED_WORDS = set(
     "typing typing_extensions enum Enum IntEnum StrEnum Flag IntFlag Generic Protocol ABC ABCMeta namedtuple "
     "NamedTuple TypedDict TYPE_CHECKING abstractmethod dataclass overload contextmanager _wall _WallAttr".split())
 UNUSED_NODES = (
-    ast.Global, ast.Nonlocal, ast.AsyncFunctionDef, ast.AsyncFor, ast.AsyncWith, ast.Await, ast.Lambda, ast.With,
+    ast.Global, ast.Nonlocal, ast.AsyncFunctionDef, ast.AsyncFor, ast.AsyncWith, ast.Await, ast.With,
     ast.Yield, ast.YieldFrom, ast.NamedExpr, ast.Starred, ast.GeneratorExp, ast.Delete, ast.Div, ast.Import,
     ast.MatMult, ast.AnnAssign, ast.Match, ast.Assert, ast.SetComp)
 INTERFACE = {
@@ -87,6 +87,25 @@ INTERFACE = {
     "journals": {
         "check_of": "text", "record_of": "data", "read_records": "text", "Journal": "", "Journal.append": "self data",
         "Journal.sync": "self", "Journal.fall": "self kept", "Journal.recover": "self"},
+    "folding": {"fold": "piece known", "folded_right": "piece folded paper"},
+    "judging": {"event_right": "program state event", "first_wrong": "program events", "tasks_right": "text tasks"},
+    "printing": {"show_program": "program", "show_expression": "tree"},
+    "releases": {
+        "first_difference": "program other flow", "may_move": "program other flow", "Fleet": "program",
+        "Fleet.deploy": "self program", "Fleet.begin": "self name values", "Fleet.keep": "self event",
+        "Fleet.move": "self number version", "Fleet.movable": "self", "Fleet.settle": "self"},
+    "tiers": {
+        "Tiered": "codes function values", "Tiered.promote": "self name known hot", "Tiered.demote": "self name",
+        "Tiered.run": "self most", "Tiered.outcome": "self", "Tiered.answer": "self answer", "Tiered.call_off": "self",
+        "Tiered.frames": "self", "Tiered.saved": "self"},
+    "vaults": {
+        "saved": "state", "restored": "data", "Vault": "", "Vault.append": "self event", "Vault.sync": "self",
+        "Vault.begin_shortening": "self state", "Vault.end_shortening": "self", "Vault.fall": "self first second",
+        "Vault.recover": "self"},
+    "waiting": {
+        "chain": "program state number", "own_moment": "program state number", "next_moment": "program state",
+        "wanted": "program state number", "last_wanted": "program state number"},
+    "worlds": {"World": "program", "World.perform": "self deed"},
 }
 
 
@@ -97,7 +116,8 @@ def source_of(name):
 
 def bound_names(function):
     """The parameters and variables of a function."""
-    names = [arg.arg for arg in function.args.args]
+    names = [arg.arg for node in ast.walk(function) if isinstance(node, (ast.FunctionDef, ast.Lambda))
+             for arg in node.args.args]
     return names + [node.id for node in ast.walk(function) if isinstance(node, ast.Name) and not isinstance(
         node.ctx, ast.Load)]
 
@@ -198,6 +218,17 @@ class TestCode(unittest.TestCase):
                         if isinstance(node, ast.Name) and isinstance(node.ctx, ast.Load):
                             self.assertNotEqual(node.id, "_")
                             self.assertIn(node.id, bound | own | USED_BUILTINS)
+
+    def test_lambdas(self):
+        for name in FILES:
+            lines = {}
+            for node in ast.walk(ast.parse(source_of(name))):
+                if isinstance(node, ast.Lambda):
+                    told = (node.lineno, tuple(arg.arg for arg in node.args.args))
+                    with self.subTest(name=name, line=node.lineno):
+                        self.assertNotIn(told, lines)
+                        self.assertEqual(node.args.defaults, [])
+                    lines[told] = True
 
     def test_methods(self):
         own = {node.name for name in FILES for node in ast.walk(ast.parse(source_of(name)))

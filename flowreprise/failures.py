@@ -6,6 +6,8 @@ NO_ITEM = 3
 TOO_MANY = 4
 CALLED_OFF = 5
 TOO_LATE = 6
+# What needs a value of another type fails as what makes no value.
+OTHER_TYPE = 2
 LEAST_CODE = 100
 GREATEST_CODE = 999
 

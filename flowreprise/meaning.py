@@ -1,9 +1,9 @@
 """Runs of programs by what they mean."""
 
-from flowreprise.code import made
-from flowreprise.failures import MOST_CALLS, TOO_GREAT, TOO_MANY, raised_code
+from flowreprise.failures import MOST_CALLS, OTHER_TYPE, TOO_GREAT, TOO_MANY, raised_code
 from flowreprise.parts import LITERALS, expression_of, parts_of
 from flowreprise.requests import may_ask
+from flowreprise.strays import is_needed, made_of_any
 
 DECIDING = {"and": False, "or": True}
 
@@ -94,6 +94,8 @@ class Course:
             self.names[-1][statement[1]] = value
         elif word == "return":
             self.give_back(value)
+        elif not is_needed(statement, value):
+            self.fail(OTHER_TYPE)
         elif word == "fail":
             self.fail(raised_code(value[1]))
         elif word == "if":
@@ -139,7 +141,10 @@ class Course:
 
     def decide(self, tree):
         """Evaluates the second part of "and" or "or" if the first one does not decide."""
-        if self.results[-1][1] != DECIDING[tree[1]]:
+        first = self.results[-1]
+        if first[0] != "bool":
+            self.fail(OTHER_TYPE)
+        elif first[1] != DECIDING[tree[1]]:
             self.results.pop()
             self.tasks.append(("tree", tree[3]))
 
@@ -153,7 +158,7 @@ class Course:
         elif tree[0] in ("await", "now", "random"):
             self.ask(_requested(tree, values))
         else:
-            self.take(made(tree, values))
+            self.take(made_of_any(tree, values))
 
     def take(self, result):
         """Takes a value or a failure."""
@@ -172,7 +177,7 @@ class Course:
 
     def ask(self, request):
         """Makes a request and takes its answer, or waits."""
-        if not may_ask(request):
+        if request is None or not may_ask(request):
             self.fail(TOO_GREAT)
             return
         index = len(self.requests)
@@ -184,18 +189,22 @@ class Course:
 
 
 def _requested(tree, values):
-    """Returns the request that an expression makes with the values of its parts."""
+    """Returns the request that an expression makes with the values of its parts, or None without a needed integer."""
     if tree[0] == "now":
         return ("now",)
     if tree[0] == "random":
-        return ("random", values[0][1])
+        return _counted("random", values[0])
     if tree[1] == "act":
         return ("act", tree[2], values[0], tree[4])
     if tree[1] == "signal":
         return ("signal", tree[2], tree[3])
     if tree[1] == "flow":
         return ("flow", tree[2], tuple(values))
-    return ("timer", values[0][1])
+    return _counted("timer", values[0])
+
+
+def _counted(word, value):
+    return (word, value[1]) if value[0] == "int" else None
 
 
 def run(program, function, values, answers, most):

@@ -10,24 +10,19 @@ from flowreprise.steps import MOST_STATEMENTS, next_event, settle_flows
 def first_difference(program, other, flow):
     """Returns the first difference of the runs of a flow in two programs that have its function, or None."""
     for index in range(len(flow.answers) + 1):
-        outcome, kind = _asked(program, flow, index)
-        if _asked(other, flow, index) != (outcome, kind):
+        answers = flow.answers[:index]
+        outcome = _outcome_with(program, flow, answers)
+        if _outcome_with(other, flow, answers) != outcome:
             return index
         if outcome[0] != "waits":
             return None
     return None
 
 
-def _asked(program, flow, index):
-    """Returns the outcome of a flow with so many answers, and the type of the value if it waits for another flow.
-
-    A request for a flow does not tell this type, but it is not the same
-    request if an answer to the one has no type that the other one needs.
-    """
-    outcome, _ = run(program, flow.function, flow.given, flow.answers[:index], MOST_STATEMENTS)
-    if outcome[0] == "waits" and outcome[1][0] == "flow":
-        return outcome, signatures(program)[outcome[1][1]][1]
-    return outcome, None
+def _outcome_with(program, flow, answers):
+    """Returns the outcome of a flow with other answers than its own."""
+    outcome, _ = run(program, flow.function, flow.given, answers, MOST_STATEMENTS)
+    return outcome
 
 
 def may_move(program, other, flow):

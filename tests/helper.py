@@ -442,6 +442,36 @@ def worked_out(word, sign, values):
     return items[index]
 
 
+def has_kind(value, kind):
+    """Whether a value has a type."""
+    if isinstance(kind, tuple):
+        return value[0] == "list" and all(has_kind(one, kind[1]) for one in value[1])
+    return value[0] == kind
+
+
+def all_kinds(depth=6):
+    """All types, with lists so deep at most."""
+    kinds = ["int", "bool", "text", "nothing"]
+    for _ in range(depth):
+        kinds += [("list", kind) for kind in kinds[-4:]]
+    return kinds
+
+
+# The types of the parts of each operation, by point 20.
+LISTS = [kind for kind in all_kinds() if isinstance(kind, tuple)]
+NEEDED = {
+    **{sign: [("int", "int")] for sign in "+-*/"}, **{sign: [("int", "int"), ("text", "text")] for sign in ("<", "<=")},
+    "&": [(kind, kind) for kind in ["text", *LISTS]], "not": [("bool",)], "neg": [("int",)],
+    "size": [(kind,) for kind in ["text", *LISTS]], "text of": [("int",), ("bool",)],
+    "item": [(kind, "int") for kind in LISTS]}
+
+
+def needed(word, values):
+    """Whether values have types that an operation needs."""
+    return word in ("=", "!=") or any(
+        all(has_kind(value, kind) for value, kind in zip(values, kinds)) for kinds in NEEDED[word])
+
+
 class Meaning:
     """Runs a program by its trees (points 70 to 72); what answers gives is asked with each request."""
 
@@ -458,6 +488,10 @@ class Meaning:
             return ("failed", failure.code)
         except Pause as pause:
             return pause.outcome
+
+    def need(self, fulfilled):
+        """A run whose values and answers have their types never meets another one (point 23)."""
+        assert fulfilled
 
     def call(self, name, values, depth):
         if depth > 31:
@@ -490,20 +524,27 @@ class Meaning:
                 self.body(row[3], names, depth)
             return
         if word == "while":
-            while self.tree(row[1], names, depth)[1]:
+            while self.number(row[1], names, depth, "bool"):
                 self.body(row[2], names, depth)
                 self.count()
             return
         if word in ("let", "set"):
             names[row[1]] = self.tree(row[2], names, depth)
             return
+        if word == "if":
+            self.body(row[2] if self.number(row[1], names, depth, "bool") else row[3], names, depth)
+            return
+        if word == "fail":
+            code = self.number(row[1], names, depth, "int")
+            raise Failure(code if 100 <= code <= 999 else 2)
         value = self.tree(row[1], names, depth)
         if word == "return":
             raise Return(value)
-        if word == "fail":
-            raise Failure(value[1] if 100 <= value[1] <= 999 else 2)
-        if word == "if":
-            self.body(row[2] if value[1] else row[3], names, depth)
+
+    def number(self, tree, names, depth, kind):
+        value = self.tree(tree, names, depth)
+        self.need(value[0] == kind)
+        return value[1]
 
     def tree(self, tree, names, depth):
         word = tree[0]
@@ -513,27 +554,33 @@ class Meaning:
         if word == "var":
             return names[tree[1]]
         if word == "op" and tree[1] in ("and", "or"):
-            first = self.tree(tree[2], names, depth)
-            return first if first[1] == (tree[1] == "or") else self.tree(tree[3], names, depth)
+            first = self.number(tree[2], names, depth, "bool")
+            return ("bool", first) if first == (tree[1] == "or") else self.tree(tree[3], names, depth)
         if word == "op":
-            return worked_out("op", tree[1], every(tree[2:]))
+            values = every(tree[2:])
+            self.need(needed(tree[1], values))
+            return worked_out("op", tree[1], values)
         if word == "list":
-            return ("list", tuple(every(tree[2])))
+            values = every(tree[2])
+            self.need(all(has_kind(value, tree[1]) for value in values))
+            return ("list", tuple(values))
         if word == "call":
             return self.call(tree[1], every(tree[2]), depth + 1)
         if word == "now":
             return self.ask(("now",))
         if word == "random":
-            return self.ask(("random", every([tree[1]])[0][1]))
+            return self.ask(("random", self.number(tree[1], names, depth, "int")))
+        if word == "await" and tree[1] == "timer":
+            return self.ask(("timer", self.number(tree[2], names, depth, "int")))
         if word == "await":
             return self.awaited(tree, every)
-        return worked_out(word, None, every(tree[1:]))
+        values = every(tree[1:])
+        self.need(needed(word, values))
+        return worked_out(word, None, values)
 
     def awaited(self, tree, every):
         if tree[1] == "act":
             return self.ask(("act", tree[2], every([tree[3]])[0], tree[4]))
-        if tree[1] == "timer":
-            return self.ask(("timer", every([tree[2]])[0][1]))
         if tree[1] == "signal":
             return self.ask(("signal", tree[2], tree[3]))
         return self.ask(("flow", tree[2], tuple(every(tree[3]))))
@@ -548,6 +595,14 @@ class Meaning:
         if told[0] == "failed":
             raise Failure(told[1])
         return told[1]
+
+
+class Moved(Meaning):
+    """A run that may have answers of other types, as a flow that has moved may have: what needs others fails with 2."""
+
+    def need(self, fulfilled):
+        if not fulfilled:
+            raise Failure(2)
 
 
 class Stepping:

@@ -7,8 +7,8 @@ from flowreprise.judging import event_right, first_wrong, tasks_right
 from flowreprise.states import State, state_of
 from flowreprise.trees import read_program
 from flowreprise.worlds import World
-from tests.helper import KINDS, Maker, check_untouched, deed_for, random_value, told_of, wanted_kind
-from tests.test_steps import event_by_words, has_kind
+from tests.helper import KINDS, Maker, check_untouched, deed_for, has_kind, random_value, told_of, wanted_kind
+from tests.test_steps import event_by_words
 
 ONE, NONE, WORD = ("int", 1), ("nothing",), ("text", "a")
 PROGRAM = read_program("""

@@ -6,7 +6,7 @@ from flowreprise.effects import allows_failure, allows_request, effects, without
 from flowreprise.machine import Machine
 from flowreprise.meaning import run
 from flowreprise.trees import read_expression, read_program
-from tests.helper import Maker, Meaning, answers_of, check_untouched, random_value
+from tests.helper import Maker, Meaning, Moved, answers_of, check_untouched, random_value
 
 ONE, TWO, NONE = ("int", 1), ("int", 2), ("nothing",)
 TRUE, FALSE = ("bool", True), ("bool", False)
@@ -137,6 +137,112 @@ class TestExpressions(unittest.TestCase):
         # What fails behind its parts fails behind their requests.
         self.assertEqual(self.worth("1 / 0 + now")[1], [])
         self.assertEqual(self.worth("(now + 1 / 0) + random(5)", answers=[ok(ONE), ok(ONE)]), (("failed", 1), [("now",)]))
+
+
+class TestStrays(unittest.TestCase):
+    """Values of other types than are needed, which a child of another version may give."""
+
+    VALUES = (whole(0), whole(7), TRUE, FALSE, text(""), text("ab"), NONE, ints(), ints(4, 5), ("list", (text("a"),)),
+              ("list", (ints(), ints(1))))
+    # Expressions with the types of which they need values, and of what they do not need of both together.
+    OF_ONE = {"not": ("bool",), "-": ("int",), "size": ("text", "list"), "text": ("int", "bool"), "random": ("int",),
+              "await timer": ("int",), "await act pay": None, "await flow f": None, "g": None}
+    OF_TWO = {**{sign: (("int", "int"),) for sign in "+-*/"}, "=": None, "!=": None, "&": (("text", "text"), ("list", "list")),
+              "<": (("int", "int"), ("text", "text")), "<=": (("int", "int"), ("text", "text"))}
+
+    def worth(self, source, *values):
+        """What a program makes of an expression in which answers stand, which may have any types."""
+        told = source.replace("A", "(await signal go: int)").replace("B", "(await signal stop: int)")
+        program = [("fn", "f", [("n", "int")], "int", [("return", read_expression(told))]),
+                   ("fn", "g", [("n", "int")], "int", [("return", ("var", "n"))])]
+        given = [ok(value) for value in values]
+        outcome, requests = run(program, "f", [ONE], given, 10)
+        left = list(given)
+        other = Moved(program, lambda request: left.pop(0) if left else None, 10)
+        self.assertEqual((outcome, requests), (other.run("f", [ONE]), other.requests), (source, values))
+        return outcome
+
+    def test_operations_of_one_value(self):
+        for word, kinds in self.OF_ONE.items():
+            source = {"not": "not A", "-": "-A", "await act pay": "await act pay(A): int"}.get(word, f"{word}(A)")
+            for value in self.VALUES:
+                outcome = self.worth(source, value)
+                if kinds is not None and value[0] not in kinds:
+                    self.assertEqual(outcome, ("failed", 2), (source, value))
+                elif value != whole(0):
+                    self.assertNotEqual(outcome[0], "failed", (source, value))
+        self.assertEqual(self.worth("g(A)", TRUE), ("done", TRUE))
+        self.assertEqual(self.worth("await act pay(A): int", NONE), ("waits", ("act", "pay", NONE, "int")))
+        self.assertEqual(self.worth("await flow f(A)", TRUE), ("waits", ("flow", "f", (TRUE,))))
+
+    def test_operations_of_two_values(self):
+        for sign, kinds in self.OF_TWO.items():
+            for one in self.VALUES:
+                for other in self.VALUES:
+                    outcome = self.worth(f"A {sign} B", one, other)
+                    if kinds is not None and (one[0], other[0]) not in kinds:
+                        self.assertEqual(outcome, ("failed", 2), (sign, one, other))
+        self.assertEqual(self.worth("A = B", whole(1), TRUE), ("done", FALSE))
+        self.assertEqual(self.worth("A != B", whole(1), TRUE), ("done", TRUE))
+        self.assertEqual(self.worth("A = B", text("a"), text("a")), ("done", TRUE))
+        self.assertEqual(self.worth("A / B", whole(1), whole(0)), ("failed", 1))
+        self.assertEqual(self.worth("A / B", TRUE, whole(0)), ("failed", 2))
+        self.assertEqual(self.worth("A[B]", ints(4, 5), ONE), ("done", whole(5)))
+        self.assertEqual(self.worth("A[B]", ints(4, 5), TWO), ("failed", 3))
+        for pair in ((ints(4, 5), TRUE), (text("ab"), ONE), (whole(3), ONE), (NONE, ONE), (ints(4, 5), NONE)):
+            self.assertEqual(self.worth("A[B]", *pair), ("failed", 2))
+
+    def test_lists_of_several_types(self):
+        words, deep = ("list", (text("a"),)), ("list", (ints(), ints(1)))
+        for one, other, made in (
+                (ints(1), words, None), (words, ints(), words), (ints(), words, words), (deep, ints(1), None),
+                (deep, ("list", (ints(),)), ("list", (ints(), ints(1), ints()))), (deep, ("list", (words,)), None),
+                (("list", (ints(),)), ("list", (words,)), ("list", (ints(), words)))):
+            self.assertEqual(self.worth("A & B", one, other), ("failed", 2) if made is None else ("done", made))
+        for source, value, made in (
+                ("[int: 1, A]", TWO, ints(1, 2)), ("[int: 1, A]", TRUE, None), ("[int: A]", text("1"), None),
+                ("[bool: A]", TRUE, ("list", (TRUE,))), ("[[int]: A]", ints(), ("list", (ints(),))), ("[[int]: A]", words, None),
+                ("[[int]: A]", ONE, None), ("[text: A]", words, None)):
+            self.assertEqual(self.worth(source, value), ("failed", 2) if made is None else ("done", made))
+
+    def test_deciding(self):
+        for value in self.VALUES:
+            for word in ("and", "or"):
+                outcome = self.worth(f"A {word} B", value, text("b"))
+                if value[0] != "bool":
+                    self.assertEqual(outcome, ("failed", 2))
+                elif value[1] == (word == "or"):
+                    self.assertEqual(outcome, ("done", value))
+                else:
+                    # The second part is what the expression gives.
+                    self.assertEqual(outcome, ("done", text("b")))
+
+    def test_statements(self):
+        asked = "await signal go: int"
+        for value in self.VALUES:
+            is_bool, is_int = value[0] == "bool", value[0] == "int"
+            for body, wanted in (
+                    (f"let a = {asked}; set n = a; do a; return n;", ("done", value)),
+                    (f"if {asked} {{ return 1; }} else {{ return 0; }}",
+                     ("done", whole(int(value[1]))) if is_bool else ("failed", 2)),
+                    (f"while {asked} {{ return 1; }} return 0;", ("done", whole(int(value[1]))) if is_bool else ("failed", 2)),
+                    (f"fail {asked};", ("failed", 2)),
+                    (f"try {{ do 5 + (await flow g({asked})); }} catch c {{ return c; }} return 9;",
+                     ("done", whole(9 if is_int else 2))),
+                    (f"try {{ if {asked} {{ do 1 / 0; }} return 5; }} catch c {{ return n * c; }}",
+                     ("done", whole(14 if not is_bool else 7 if value[1] else 5))),
+                    (f"try {{ do {asked} and true; }} catch c {{ return n + c; }} return 1;", ("done", ONE if is_bool else whole(9)))):
+                outcome, _ = body_run(body, [ok(value)] * 2, others="fn g(n: int): int { return n; }")
+                self.assertEqual(outcome, wanted, (body, value))
+        self.assertEqual(body_run(f"fail {asked};", [ok(whole(404))])[0], ("failed", 404))
+        self.assertEqual(body_run(f"fail {asked};", [ok(text("404"))])[0], ("failed", 2))
+
+    def test_calls_that_are_left(self):
+        """A failure out of calls leaves nothing of them behind."""
+        others = "fn g(n: int): int { return 1 + (2 * (await flow h(n))); } fn h(n: int): text { return text(n); }"
+        for value, wanted in ((whole(5), 7 * 11), (text("a"), 7 * 2), (NONE, 7 * 2)):
+            body = "let s = 0; try { set s = n * g(n); } catch c { set s = n * c; } return s;"
+            self.assertEqual(body_run(body, [ok(value)], others=others)[0], ("done", whole(wanted)))
 
 
 class TestStatements(unittest.TestCase):

@@ -8,8 +8,8 @@ from flowreprise.judging import first_wrong
 from flowreprise.meaning import run
 from flowreprise.releases import Fleet, first_difference, may_move
 from flowreprise.states import state_of
-from flowreprise.trees import read_program
-from tests.helper import Maker, Meaning, check_untouched, mutable_ids, random_value, told_of, wanted_kind
+from flowreprise.trees import read_expression, read_program
+from tests.helper import KINDS, Maker, Moved, check_untouched, has_kind, mutable_ids, random_value, told_of, wanted_kind
 from tests.test_steps import event_by_words
 
 ONE, NONE = ("int", 1), ("nothing",)
@@ -34,7 +34,7 @@ def flow_of(*answers, name="main", given=(("int", 7),), end=None):
 def requests_of(program, flow, index):
     """The outcome and the requests of a flow with so many answers."""
     given = list(flow.answers[:index])
-    meaning = Meaning(program, lambda request: given.pop(0) if given else None, 60)
+    meaning = Moved(program, lambda request: given.pop(0) if given else None, 60)
     return meaning.run(flow.function, flow.given), meaning.requests
 
 
@@ -167,12 +167,47 @@ class TestDifferences(unittest.TestCase):
         self.assertFalse(may_move(other, program, flow_of(name="other")))
 
     def test_flows_whose_values_have_other_types(self):
-        # A child that gives a text cannot answer the request for one that gives an integer.
+        """A request for a flow does not tell the type of its value (point 71)."""
+        for use in ("do await flow sub(n);", "let b = await flow sub(n);", "if n < 0 { } else { let c = await flow sub(n); }",
+                    "do true and (await flow sub(n)) = (await flow sub(n));"):
+            texts = ["fn main(n: int): int { let a = 1; " + use + " return a; } fn sub(n: int): " + rest for rest in (
+                "int { return n; }", "int { return n + 1; }", "text { return text(n); }", "[int] { return [int: n]; }",
+                "nothing { return nothing; }", "bool { return n < now; }")]
+            for text in texts:
+                for other in texts:
+                    one, two = program_of(text), program_of(other)
+                    for answers in ((), (("failed", 404),), (("ok", ONE),), (("ok", ("text", "a")),), (("ok", ONE),) * 2):
+                        flow = flow_of(*answers)
+                        self.assertIsNone(first_difference(one, two, flow))
+                        self.assertIsNone(difference_by_words(one, two, flow))
+                        self.assertIs(may_move(one, two, flow), True)
+                    self.assertIs(may_move(one, two, flow_of(end=("done", ONE))), False)
+
+    def test_flows_whose_values_are_not_what_the_other_program_needs(self):
         one = program_of("fn main(n: int): int { return 1 + await flow sub(n); } fn sub(n: int): int { return n; }")
         other = program_of("fn main(n: int): int { return size(await flow sub(n)); } fn sub(n: int): text { return text(n); }")
-        for answers in ((), (("ok", ONE),), (("failed", 404),)):
-            self.assertEqual(first_difference(one, other, flow_of(*answers)), 0)
-            self.assertFalse(may_move(one, other, flow_of(*answers)))
+        third = program_of("fn main(n: int): int { return 2 + size(await flow sub(n)); } fn sub(n: int): text { return \"\"; }")
+        for answers, wanted in (((), None), ((("failed", 404),), None), ((("ok", ONE),), 1), ((("ok", ("text", "")),), 1)):
+            flow = flow_of(*answers)
+            for two in (other, third):
+                for pair in ((one, two), (two, one)):
+                    self.assertEqual(first_difference(*pair, flow), wanted)
+                    self.assertEqual(difference_by_words(*pair, flow), wanted)
+                    self.assertIs(may_move(*pair, flow), wanted is None)
+        # Both fail in the same way.
+        self.assertIsNone(first_difference(other, third, flow_of(("ok", ONE))))
+
+    def test_flows_with_other_functions_or_values(self):
+        more = " fn aid(n: int): int { return n; } fn all(n: [int]): int { return size(n); }"
+        text = "fn main(n: int): int { return await flow aid(n); }" + more
+        for old, fresh in (("flow aid(n)", "flow sub(n)"), ("flow aid(n)", "flow aid(n + 1)"), ("flow aid(n)", "flow all([int:])"),
+                           ("await flow aid(n)", "await act aid(n): int"), ("await flow aid(n)", "aid(n)")):
+            for pair in ((text, text.replace(old, fresh)), (text.replace(old, fresh), text)):
+                self.assertEqual(first_difference(program_of(pair[0]), program_of(pair[1]), flow_of()), 0)
+        # An empty list is the same value, whatever the types of the parameters are.
+        one = program_of(text.replace("flow aid(n)", "flow all([int:])"))
+        other = program_of(text.replace("flow aid(n)", "flow all([bool:])").replace("all(n: [int])", "all(n: [bool])"))
+        self.assertIsNone(first_difference(one, other, flow_of()))
 
 
 class Watched:
@@ -195,7 +230,7 @@ class Watched:
             program = self.programs[self.versions[number]]
             meant, _ = run(program, flow.function, flow.given, flow.answers, 60)
             if flow.end is None and meant[0] != "waits":
-                case.assertEqual(event_by_words(program, fleet.state, number), ("end", number, meant))
+                case.assertEqual(event_by_words(program, fleet.state, number, Moved), ("end", number, meant))
 
     def keep(self, event):
         check_untouched(self.case, self.fleet.keep, event)
@@ -246,12 +281,12 @@ class Watched:
         while is_new:
             is_new = False
             for number in sorted(state.flows):
-                event = event_by_words(self.programs[self.versions[number]], state, number)
+                event = event_by_words(self.programs[self.versions[number]], state, number, Moved)
                 while event is not None:
                     is_new = True
                     state.apply(event)
                     self.take(event)
-                    event = event_by_words(self.programs[self.versions[number]], state, number)
+                    event = event_by_words(self.programs[self.versions[number]], state, number, Moved)
         self.case.assertIsNone(self.fleet.settle())
         self.check()
 
@@ -306,6 +341,43 @@ class TestFleets(unittest.TestCase):
         self.assertEqual((watched.fleet.versions[1], watched.fleet.versions[3]), (2, 1))
         self.assertFalse(watched.move(3, 2))
         self.assertTrue(watched.move(3, 3))
+
+    def test_moving_before_and_behind_the_beginning_of_a_child(self):
+        """A child keeps its version; what begins behind the move has the version of its parent."""
+        old = "fn main(n: int): int { do await flow aid(n); return 1; } fn aid(n: int): int { do await signal go: int; return n; }"
+        fresh = old.replace("aid(n: int): int", "aid(n: int): text").replace("return n", 'return "a"')
+        for moment, child, value in ((0, 2, ("text", "a")), (1, 1, ("int", 7)), (2, 1, ("int", 7))):
+            watched = self.watched(old)
+            self.assertEqual(watched.begin("main", [("int", 7)]), 1)
+            watched.deploy(program_of(fresh))
+            for step in range(3):
+                if step == moment:
+                    self.assertEqual(watched.check_movable(), [(1, 2)])
+                    self.assertTrue(watched.move(1, 2))
+                if step == 1:
+                    watched.keep(("signal", 2, "go", ONE))
+                if step == 2 and moment == 2:
+                    # The child has ended, and its parent has moved before it was answered.
+                    watched.keep(("answer", 2, ("ok", ONE), 0))
+                    watched.keep(("end", 2, ("done", ("int", 7))))
+                watched.settle() if step == 0 or step == 2 else watched.check()
+            self.assertEqual(watched.fleet.versions, {1: 2, 2: child})
+            ends = [watched.fleet.state.flows[number].end for number in (2, 1)]
+            self.assertEqual(ends, [("done", value), ("done", ONE)])
+
+    def test_children_that_give_what_is_not_needed(self):
+        old = 'fn main(n: int): int { return 1 + await flow aid(n); } fn aid(n: int): int { return n; }'
+        fresh = ('fn main(n: int): int { try { return size("a" & await flow aid(n)); } catch c { return -c; } } '
+                 'fn aid(n: int): text { return "bc"; }')
+        for is_begun, end in ((False, 3), (True, -2)):
+            watched = self.watched(old)
+            watched.begin("main", [("int", 7)])
+            watched.deploy(program_of(fresh))
+            if is_begun:
+                watched.keep(("begin", 2, "aid", [("int", 7)], 1))
+            self.assertTrue(watched.move(1, 2))
+            watched.settle()
+            self.assertEqual(watched.fleet.state.flows[1].end, ("done", ("int", end)))
 
     def test_functions_of_the_newest_version(self):
         watched = self.watched("fn main(n: int): int { return n; } fn other(n: int): int { return n; }" + SUB)
@@ -394,6 +466,17 @@ class TestFleets(unittest.TestCase):
         self.assertEqual(watched.fleet.state.flows[1].end, ("done", ("int", 2)))
 
 
+# What a flow does with a value of a type.
+USES = {
+    "int": ["got + n", "-got * 2", "size(text(got))", "size([int: got])", "[int: 5, 6][got]"],
+    "bool": ["size(text(got))", "size(text(not got or n < 2))", "size(text(got and true))", "size([bool: got, false])"],
+    "text": ["size(got)", 'size("a" & got)', 'size(text(got < "b"))', "size([text: got])"],
+    "nothing": ["size(text(got = nothing))", "size([nothing: got])"],
+    ("list", "int"): ["got[0]", "size(got & [int: 1])", "-(got & [int: 1])[0]"],
+    ("list", "text"): ["size(got[0])", "size(got)", 'size(got & [text: "a"])'],
+    ("list", ("list", "int")): ["got[0][0]", "size(got)", "size(got & [[int]: [int: n]])"]}
+
+
 class TestRandom(unittest.TestCase):
     def other_program(self, rng, program):
         """The same program, with a statement put in front or another end, or one made anew."""
@@ -442,6 +525,52 @@ class TestRandom(unittest.TestCase):
                     break
                 flow.answers.append(self.answer(rng, program, outcome[1]))
         self.assertGreater(min(seen[None], seen[0], seen[1]), 20, seen)
+
+    def kindly(self, rng, kind):
+        """A program whose flow waits for another one, which gives a value of a type, and uses it by chance."""
+        tree = ("await", "flow", "aid", [("var", "n")])
+        maker = Maker(rng, asking=False)
+        maker.heads, maker.at = [], 0
+        body = [("let", "got", tree), ("do", ("await", "signal", "go", "int"))]
+        use = rng.choice([maker.tree("int", {"n": "int", "got": kind}, 3), *[read_expression(told) for told in USES[kind]]])
+        body = [*body, ("return", use)] if rng.random() < 0.7 else [body[0], ("return", use)]
+        if rng.random() < 0.2:
+            body = [("try", body, "c", [("return", ("var", "c"))])]
+        rows = [("do", ("await", "timer", ("int", rng.choice([1, 2]))))] if rng.random() < 0.8 else []
+        program = [("fn", "main", [("n", "int")], "int", body), ("fn", "aid", [("n", "int")], kind, [
+            *rows, ("return", maker.tree(kind, {"n": "int"}, 2))])]
+        check_program(program)
+        return program
+
+    def test_fleets_with_other_types_of_children(self):
+        seen = {"moved": 0, "stayed": 0, "strays": 0, "failed": 0}
+        for seed in range(600):
+            rng = random.Random(seed)
+            watched = Watched(self, self.kindly(rng, rng.choice(KINDS)))
+            for _ in range(18):
+                way = rng.random()
+                if way < 0.08 or not watched.versions:
+                    watched.begin("main", [random_value(rng, "int", True)])
+                elif way < 0.35 and len(watched.programs) < 6:
+                    watched.deploy(self.kindly(rng, rng.choice(KINDS)))
+                elif way < 0.6:
+                    number, version = rng.randint(1, len(watched.versions)), rng.randint(1, len(watched.programs) - 1)
+                    self.check_requests(watched, number, lambda: watched.move(number, version), seen)
+                elif way < 0.8:
+                    watched.settle()
+                elif way < 0.9:
+                    watched.keep(("tick", watched.fleet.state.moment + 1))
+                else:
+                    watched.keep(("signal", 1, "go", ONE)) if watched.fleet.state.flows[1].end is None else None
+                watched.check()
+                watched.check_movable()
+            for number, flow in watched.fleet.state.flows.items():
+                program = watched.programs[watched.versions[number]]
+                if flow.function == "main" and flow.answers and flow.answers[0][0] == "ok" and not has_kind(
+                        flow.answers[0][1], program[1][3]):
+                    seen["strays"] += 1
+                    seen["failed"] += flow.end == ("failed", 2)
+        self.assertGreater(min(seen.values()), 20, seen)
 
     def answer(self, rng, program, request):
         if rng.random() < 0.15:

@@ -5,7 +5,7 @@ import unittest
 from flowreprise.states import State, state_of
 from flowreprise.steps import next_event, outcome_of, random_for
 from flowreprise.trees import read_program
-from tests.helper import Maker, Meaning, mutable_ids, random_value, told_of
+from tests.helper import Maker, Meaning, has_kind, mutable_ids, random_value, told_of
 
 ONE, NONE = ("int", 1), ("nothing",)
 PROGRAM = read_program("""
@@ -226,13 +226,13 @@ class TestActivities(Case):
             self.check_at(state, [(9, None), (10, ("lost", 1, 6))])
 
 
-def event_by_words(program, state, number):
+def event_by_words(program, state, number, means=Meaning):
     """The next event by the words of point 76."""
     flow = state.flows[number]
     if flow.end:
         return None
     given = list(flow.answers)
-    meaning = Meaning(program, lambda request: given.pop(0) if given else None, 60)
+    meaning = means(program, lambda request: given.pop(0) if given else None, 60)
     outcome = meaning.run(flow.function, flow.given)
     if outcome[0] != "waits":
         return ("end", number, outcome)
@@ -270,12 +270,6 @@ def event_by_words(program, state, number):
     if flow.attempt == 3:
         return failed(flow.lost)
     return ("attempt", number, flow.attempt + 1) if moment >= flow.since + 2 * flow.attempt else None
-
-
-def has_kind(value, kind):
-    if isinstance(kind, tuple):
-        return value[0] == "list" and all(has_kind(one, kind[1]) for one in value[1])
-    return value[0] == kind
 
 
 class TestRandom(unittest.TestCase):

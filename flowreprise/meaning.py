@@ -3,7 +3,7 @@
 from flowreprise.failures import MOST_CALLS, OTHER_TYPE, TOO_GREAT, TOO_MANY, raised_code
 from flowreprise.parts import LITERALS, expression_of, parts_of
 from flowreprise.requests import may_ask
-from flowreprise.strays import is_needed, made_of_any
+from flowreprise.strays import is_needed, made_of_any, named
 
 DECIDING = {"and": False, "or": True}
 
@@ -131,7 +131,7 @@ class Course:
         if word in LITERALS:
             self.results.append(tree)
         elif word == "var":
-            self.results.append(self.names[-1][tree[1]])
+            self.take(named(self.names[-1], tree[1]))
         elif word == "op" and tree[1] in DECIDING:
             self.tasks.append(("first made", tree))
             self.tasks.append(("tree", tree[2]))

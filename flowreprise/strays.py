@@ -2,7 +2,8 @@
 
 A flow of a fleet may be given them: its child goes on with the version with
 which it has begun, and so may give a value of another type than the version
-needs to which the flow has moved.
+needs to which the flow has moved. And what is compared for a flow may be two
+functions with other parameters.
 """
 
 from flowreprise.code import made
@@ -14,6 +15,11 @@ IN_ORDER = ("<", "<=")
 # The words of the values that something needs.
 OF_ONE = {"not": ["bool"], "neg": ["int"], "size": ["text", "list"], "text of": ["int", "bool"]}
 OF_STATEMENT = {"if": "bool", "while": "bool", "fail": "int"}
+
+
+def named(names, name):
+    """Returns the value of a name, or a failure for a parameter without a value."""
+    return ("ok", names[name]) if name in names else ("failed", OTHER_TYPE)
 
 
 def is_needed(statement, value):

@@ -552,6 +552,7 @@ class Meaning:
         if word in ("int", "bool", "text", "nothing"):
             return tree
         if word == "var":
+            self.need(tree[1] in names)
             return names[tree[1]]
         if word == "op" and tree[1] in ("and", "or"):
             first = self.number(tree[2], names, depth, "bool")

@@ -161,6 +161,23 @@ class TestDifferences(unittest.TestCase):
                 self.assertIsNone(first_difference(one, two, flow_of()))
                 self.assertIs(may_move(one, two, flow_of()), moves)
 
+    def test_functions_with_other_parameters(self):
+        """The runs are compared with the values of the flow, whatever parameters the functions have."""
+        text = "fn main(n: int): int { let a = await act pay(n): int; return a + n; }"
+        program = program_of(text)
+        for params, use, wanted in (
+                ("n: int, m: int", "n", (None, None)), ("n: int, m: int", "m", (0, 0)), ("m: int", "m", (None, None)),
+                ("n: text", "size(n)", (0, 0)), ("n: text", "n", (None, 1)), ("", "7", (None, None)),
+                ("m: bool, n: int", "5", (0, 0)), ("n: int, m: int", "n + 0 * m", (0, 0))):
+            kind = {"n: text": "0"}.get(params, use)
+            other = program_of(f"fn main({params}): int {{ let a = await act pay({use}): int; return a + {kind}; }}")
+            for many in (0, 1):
+                flow = flow_of(*OKS[:many])
+                for pair in ((program, other), (other, program)):
+                    self.assertEqual(first_difference(*pair, flow), wanted[many], (params, use))
+                    self.assertEqual(difference_by_words(*pair, flow), wanted[many])
+                    self.assertIs(may_move(*pair, flow), params == "m: int")
+
     def test_functions_that_are_not_there(self):
         program, other = program_of(THREE), program_of("fn other(n: int): int { return n; }")
         self.assertFalse(may_move(program, other, flow_of()))

@@ -13,7 +13,7 @@ from flowreprise.values import fits, joined, known_type
 OF_INTEGERS = ("+", "-", "*", "/")
 IN_ORDER = ("<", "<=")
 # The words of the values that something needs.
-OF_ONE = {"not": ["bool"], "neg": ["int"], "size": ["text", "list"], "text of": ["int", "bool"]}
+OF_ONE = {"not": ("bool",), "neg": ("int",), "size": ("text", "list"), "text of": ("int", "bool")}
 OF_STATEMENT = {"if": "bool", "while": "bool", "fail": "int"}
 
 

@@ -122,6 +122,54 @@ def bound_names(function):
         node.ctx, ast.Load)]
 
 
+def held_rows(source):
+    """The rows at module level with a list, dict or tuple that contains a list or dict, however deep."""
+    rows = []
+    for row in ast.parse(source).body:
+        if isinstance(row, (ast.FunctionDef, ast.ClassDef)):
+            continue
+        for outer in ast.walk(row):
+            if isinstance(outer, (ast.List, ast.Dict, ast.Tuple)):
+                rows += [row.lineno for inner in ast.walk(outer)
+                         if inner is not outer and isinstance(inner, (ast.List, ast.Dict, ast.ListComp, ast.DictComp))]
+    return sorted(set(rows))
+
+
+def is_held(value):
+    """Whether a list, dict or tuple contains a list or dict, however deep."""
+    if not isinstance(value, (list, dict, tuple)):
+        return False
+    parts = list(value.values()) if isinstance(value, dict) else list(value)
+    return any(isinstance(part, (list, dict)) or is_held(part) for part in parts)
+
+
+def table_names(source):
+    """The names of the lists and dicts at module level."""
+    return {row.targets[0].id for row in ast.parse(source).body
+            if isinstance(row, ast.Assign) and any(
+                isinstance(node, (ast.List, ast.Dict)) for node in ast.walk(row.value))}
+
+
+def kept_tables(source, tables):
+    """The lines in which such names stand elsewhere than where lists and dicts are only read."""
+    tree = ast.parse(source)
+    read = []
+    for node in ast.walk(tree):
+        if isinstance(node, ast.Subscript) and isinstance(node.ctx, ast.Load):
+            read.append(node.value)
+        elif isinstance(node, ast.Compare):
+            read += node.comparators
+        elif isinstance(node, (ast.For, ast.comprehension)):
+            read.append(node.iter)
+        elif isinstance(node, ast.Attribute) and node.attr in ("get", "index", "count"):
+            read.append(node.value)
+        elif isinstance(node, ast.Call) and isinstance(node.func, ast.Name) and node.func.id in (
+                "len", "list", "dict", "sorted"):
+            read += node.args
+    return sorted({node.lineno for node in ast.walk(tree) if isinstance(node, ast.Name) and node.id in tables
+                   and isinstance(node.ctx, ast.Load) and not any(node is other for other in read)})
+
+
 class TestFiles(unittest.TestCase):
     def test_names_and_characters(self):
         for name in FILES:
@@ -178,6 +226,46 @@ class TestFiles(unittest.TestCase):
                     else:
                         seen.append(row.name)
             self.assertEqual(len(seen), len(set(seen)))
+
+    def test_tables_hold_no_tables(self):
+        for name in FILES:
+            with self.subTest(name=name):
+                self.assertEqual(held_rows(source_of(name)), [])
+            module = importlib.import_module("flowreprise" if name == "__init__.py" else "flowreprise." + name[:-3])
+            for told, value in vars(module).items():
+                # Python gives each module names of its own, which begin with two underscores.
+                if not told.startswith("__"):
+                    with self.subTest(name=name, told=told):
+                        self.assertFalse(is_held(value))
+
+    def test_tables_are_only_read(self):
+        tables = set()
+        for name in FILES:
+            tables |= table_names(source_of(name))
+        self.assertIn("OF_ONE", tables)
+        self.assertNotIn("OF_INTEGERS", tables)
+        for name in FILES:
+            with self.subTest(name=name):
+                self.assertEqual(kept_tables(source_of(name), tables), [])
+
+    def test_what_the_tests_of_tables_say(self):
+        wrong = ("{'a': ['b']}", "{'a': {}}", "[[]]", "[{}]", "([],)", "({},)", "(1, (2, [3]))", "{'a': (1, ({},))}",
+                 "[(1, [2])]", "(1,) + ([2],)", "{'a': [1] + [2]}", "{'a': [k for k in 'ab']}", "({k: 1 for k in 'a'},)")
+        for text in wrong:
+            with self.subTest(text=text):
+                self.assertEqual(held_rows("B = 1\n\nA = " + text), [3])
+                self.assertTrue(is_held(eval(text)))
+        for text in ("{'a': ('b',)}", "[1, (2, 3)]", "((1, 2), (3,))", "[1] + [2]", "{}", "()", "'[[1]]'", "[(), '']"):
+            with self.subTest(text=text):
+                self.assertEqual(held_rows("A = " + text), [])
+                self.assertFalse(is_held(eval(text)))
+        self.assertEqual(held_rows("def f():\n    return [[1]]"), [])
+        self.assertEqual(table_names("A = [1]\nB = {}\nC = (1,)\nD = 'a'\nE = [1] + [2]"), {"A", "B", "E"})
+        for text in ("A[k]", "k in A", "len(A)", "A.get(k)", "list(A)", "[k for k in A]"):
+            self.assertEqual(kept_tables("def f(k):\n    return " + text, {"A"}), [])
+        for text in ("A", "(A,)", "g(A)", "A.pop()", "A[k] or A", "k + A"):
+            self.assertEqual(kept_tables("def f(k):\n    return " + text, {"A"}), [2])
+        self.assertEqual(kept_tables("def f(k):\n    A[k] = 1\n    b = A", {"A"}), [2, 3])
 
 
 class TestCode(unittest.TestCase):
